@@ -1,0 +1,1 @@
+"""Namedabove: when readers of letters lose one another."""

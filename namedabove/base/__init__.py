@@ -1,0 +1,1 @@
+"""What all parts of the package build on: names, marks and cutters."""

@@ -1,0 +1,27 @@
+"""Values of all kinds that [0.4] of the document lists, for calls with invalid arguments."""
+
+from namedabove.base.cutters import Cutter
+
+
+def nested(value, deep):
+    """The value inside of so many tuples, lists and dicts by turns."""
+    for level in range(deep):
+        value = [(value,), [value], {"in": value}][level - level // 3 * 3]
+    return value
+
+
+INTEGERS = (0, 1, -1, 2, 4, 5, 1000, 1001, 10**12, 10**39, 10**40 - 1, 1 - 10**40)
+BOOLEANS = (True, False)
+STRINGS = ("", " ", "a", "ann", "all", "..", "+..", "\n", "a\nb", "0", "x" * 300, "".join(map(chr, range(32, 127))))
+
+
+def several():
+    """Fresh values of each kind, so that no test can change what another one gets."""
+    return [
+        *INTEGERS, *BOOLEANS, None, *STRINGS,
+        (), (0,), (True, None), ("a", ("b", ())), ("all",), (Cutter("..+"),),
+        [], [0], ["all"], [[], {}],
+        {}, {"a": 1}, {0: [1], ("a", 1): {"b": ()}},
+        Cutter(), Cutter("all"), Cutter("+-..-+"),
+        nested(0, 9), nested("all", 9), nested(None, 9), nested(Cutter("..+"), 8), nested([], 8),
+    ]
