@@ -131,9 +131,7 @@ class Cutter:
         return isinstance(other, Cutter) and self._table == other._table
 
     def __str__(self):
-        if not self._parts:
-            return KEEP_ALL
-        return " > ".join(self._parts)
+        return " > ".join(self._parts or (KEEP_ALL,))
 
 
 def check_cutter(value):
