@@ -1,6 +1,9 @@
 """Values of all kinds that [0.4] of the document lists, for calls with invalid arguments."""
 
+from namedabove.base.companies import Company
 from namedabove.base.cutters import Cutter
+from namedabove.read.rules import Rule
+from namedabove.talk.bundles import Bundle
 
 
 def nested(value, deep):
@@ -15,6 +18,18 @@ BOOLEANS = (True, False)
 STRINGS = ("", " ", "a", "ann", "all", "..", "+..", "\n", "a\nb", "0", "x" * 300, "".join(map(chr, range(32, 127))))
 
 
+def objects():
+    """Fresh objects of the package, some of each class."""
+    solo = Company(("a",), {("a", "a"): (Cutter(), True, Cutter("..++"))})
+    pair = Company(("ann", "bob"), {}, starts=())
+    return [
+        Cutter(), Cutter("all"), Cutter("+-..-+"),
+        solo, pair,
+        Bundle(solo, ("a", None, True), ("a", 0, False)), Bundle(pair),
+        Rule(Cutter()), Rule(Cutter("..+"), sees_lost=True),
+    ]
+
+
 def several():
     """Fresh values of each kind, so that no test can change what another one gets."""
     return [
@@ -22,6 +37,6 @@ def several():
         (), (0,), (True, None), ("a", ("b", ())), ("all",), (Cutter("..+"),),
         [], [0], ["all"], [[], {}],
         {}, {"a": 1}, {0: [1], ("a", 1): {"b": ()}},
-        Cutter(), Cutter("all"), Cutter("+-..-+"),
-        nested(0, 9), nested("all", 9), nested(None, 9), nested(Cutter("..+"), 8), nested([], 8),
+        *objects(),
+        nested(0, 9), nested("all", 9), nested(None, 9), nested(Cutter("..+"), 8), nested([], 8), nested(objects()[3], 8),
     ]

@@ -58,15 +58,22 @@ def kept_places(parts, many):
     return tuple(places)
 
 
+def table_of(parts):
+    """The kept places of rows of 0 to 6.
+
+    One place more than patterns reach tells a pattern from what keeps all: so these rows tell what
+    the cutter does to every row, and cutters with the same table are alike.
+    """
+    return tuple([kept_places(parts, many) for many in range(REACH + 2)])
+
+
 class Cutter:
     """Keeps some places of a row and drops the others; it never changes."""
 
     def __init__(self, *parts):
         check_parts(parts)
         self._parts = parts
-        # One place more than patterns reach tells a pattern from what keeps all: so these rows tell
-        # what the cutter does to every row, and cutters with the same table are alike.
-        self._table = tuple([kept_places(parts, many) for many in range(REACH + 2)])
+        self._table = table_of(parts)
 
     @classmethod
     def of(cls, parts):
@@ -74,6 +81,14 @@ class Cutter:
         if not isinstance(parts, tuple):
             raise InvalidCutter("the parts are no tuple")
         return cls(*parts)
+
+    @classmethod
+    def of_both(cls, one, other):
+        """First the one, then the other one; here there can be more than four parts."""
+        both = cls()
+        both._parts = one.parts + other.parts
+        both._table = table_of(both._parts)
+        return both
 
     @property
     def parts(self):
@@ -138,3 +153,12 @@ def check_cutter(value):
     """Raise InvalidCutter for what is no cutter."""
     if not isinstance(value, Cutter):
         raise InvalidCutter("the value is no cutter")
+
+
+def cut(cutter, row):
+    """The tuple of the values of a tuple that a cutter keeps, of a row of any length."""
+    if cutter.keeps_all:
+        return row
+    if len(row) > REACH:
+        row = row[:MAX_FRONT] + row[-MAX_BACK:]
+    return tuple([row[at] for at in cutter.places(len(row))])

@@ -1,0 +1,1 @@
+"""What a reader makes of the letters that came."""

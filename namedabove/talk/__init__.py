@@ -1,0 +1,1 @@
+"""Letters that are written upon one another."""

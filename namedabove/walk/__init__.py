@@ -1,0 +1,1 @@
+"""The states of letters, and what ways through them tell."""
