@@ -48,6 +48,7 @@ class Making(unittest.TestCase):
         ):
             with self.subTest(people=people):
                 self.assertRaises(InvalidCompany, Company, people, {})
+                self.assertRaises(InvalidCompany, Company, people, {}, starts=())
 
     def test_what_is_not_told(self):
         company = Company(("ann", "bob"), {("ann", "bob"): TURN})

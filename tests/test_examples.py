@@ -8,6 +8,11 @@ IMPORTS = """
 >>> from namedabove.base.companies import Company
 >>> from namedabove.talk.bundles import Bundle
 >>> from namedabove.read.rules import Rule
+>>> from namedabove.read.lots import (
+...     Lot, groups, together, neighbours, chain, is_chain, colours, is_colouring, shown, row_of_losses)
+>>> from namedabove.walk.states import MAX_STATES, Walk
+>>> from namedabove.walk.parted import find_parted, is_parted_paper, least_losses, least_break
+>>> from namedabove.walk.rows import find_rows, is_rows_paper, least_row
 """
 
 VALUES = """
@@ -48,7 +53,36 @@ RULES = """
 [(1, 2), (2,), 'seeing rule all', True, False, True]
 """
 
-SECTIONS = (IMPORTS, VALUES, CUTTERS, COMPANIES, BUNDLES, RULES)
+LOTS = """
+>>> lot = Lot(talk, (0, 3, 4))
+>>> [groups(WIDE, lot), groups(NARROW, lot), groups(WIDE, lot.with_come(2)), len(lot), lot.lost, shown(WIDE, lot.with_come(1))]
+[((0,), (3, 4)), ((0,), (3, 4)), ((0, 2, 3, 4),), 2, (1, 2), {0: None, 1: 0, 3: 1, 4: 3}]
+>>> [chain(WIDE, lot.with_come(2), 0, 4), colours(NARROW, lot, 0, 4), row_of_losses(lot, 4), is_colouring(WIDE, lot, 0, 3, {0: 0, 1: 1, 2: 1, 3: 1, 4: 1})]
+[(0, 2, 3, 4), {0: 0, 3: 1, 4: 1}, 2, True]
+"""
+
+STATES = """
+>>> walk = Walk(PLAIN, WIDE)
+>>> [walk.begins(), walk.steps(("ann", 0, ((), (), ()))), len(walk.states())]
+[(('ann', 0, ((), (), ())), ('ann', 1, ((), (), ()))), (('bob', 0, ((0,), (), ())), ('bob', 1, ((0,), (), ()))), 22]
+>>> [walk.cost(("bob", 1, ((0,), (), ()))), Walk(PLAIN, NARROW).steps(("ann", 0, ((), (), ()))), Walk.short((0, 1, 9, 1, 1, 0, 0))]
+[1, (('bob', 0, ((0,), (), ())), ('bob', 2, ((0,), (), ()))), ((0, 1), (1, 9), (1, 0, 0))]
+"""
+
+PARTED = """
+>>> [least_losses(PLAIN, WIDE, "ann", "bob", kin="above"), least_losses(PLAIN, NARROW, "ann", "bob", kin="above"), least_break(PLAIN, NARROW), find_parted(PLAIN, WIDE, "ann", "ann", kin="above", most=1)[0]]
+[2, 1, 1, 'tables']
+>>> word, parted, first, second = find_parted(PLAIN, NARROW, "ann", "ann", kin="above", most=1)
+>>> [word, together(NARROW, parted, first, second), len(parted), parted.bundle.talk_of(first) == parted.bundle.talk_of(second)]
+['lot', False, 1, True]
+"""
+
+ROWS = """
+>>> [least_row(PLAIN, WIDE, "ann", "bob", kin="above"), find_rows(PLAIN, WIDE, "bob", "bob", kin="beside", most=0)[0], least_row(PLAIN, Rule(ALL), "ann", "ann", kin="above")]
+[2, 'sets', 2]
+"""
+
+SECTIONS = (IMPORTS, VALUES, CUTTERS, COMPANIES, BUNDLES, RULES, LOTS, STATES, PARTED, ROWS)
 
 
 class Examples(unittest.TestCase):

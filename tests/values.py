@@ -2,8 +2,10 @@
 
 from namedabove.base.companies import Company
 from namedabove.base.cutters import Cutter
+from namedabove.read.lots import Lot
 from namedabove.read.rules import Rule
 from namedabove.talk.bundles import Bundle
+from namedabove.walk.states import Walk
 
 
 def nested(value, deep):
@@ -22,11 +24,11 @@ def objects():
     """Fresh objects of the package, some of each class."""
     solo = Company(("a",), {("a", "a"): (Cutter(), True, Cutter("..++"))})
     pair = Company(("ann", "bob"), {}, starts=())
+    bundle = Bundle(solo, ("a", None, True), ("a", 0, False))
     return [
-        Cutter(), Cutter("all"), Cutter("+-..-+"),
-        solo, pair,
-        Bundle(solo, ("a", None, True), ("a", 0, False)), Bundle(pair),
-        Rule(Cutter()), Rule(Cutter("..+"), sees_lost=True),
+        Cutter(), Cutter("all"), Cutter("+-..-+"), solo, pair, bundle, Bundle(pair),
+        Rule(Cutter()), Rule(Cutter("..+"), sees_lost=True), Lot(bundle, (1,)), Lot(Bundle(pair), ()),
+        Walk(solo, Rule(Cutter())), Walk(pair, Rule(Cutter("..+"), sees_lost=True)),
     ]
 
 
