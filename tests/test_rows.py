@@ -9,6 +9,7 @@ from namedabove.errors import InvalidCompany, InvalidNumber, InvalidOperation, I
 from namedabove.read.lots import Lot, row_of_losses
 from namedabove.read.rules import Rule
 from namedabove.talk.bundles import Bundle
+from namedabove.walk.heads import Heads
 from namedabove.walk.parted import least_losses
 from namedabove.walk.rows import find_rows, is_rows_paper, least_row
 from namedabove.walk.states import Walk
@@ -93,14 +94,13 @@ class Finding(unittest.TestCase):
     def test_shorter_rows_can_need_more_losses(self):
         plain = (ALL, True, ALL)
         company = Company(
-            ("ann", "bob", "cyd"), {
-                ("ann", "bob"): plain, ("bob", "ann"): (ALL, True, Cutter("+..-++")), ("cyd", "ann"): plain,
-                ("bob", "cyd"): (Cutter("..+++", "+.."), True, ALL), ("cyd", "bob"): plain,
-            }, starts=("bob", "cyd"), copies={"ann": Cutter("+..")},
+            ("ann", "bob"),
+            {("ann", "bob"): plain, ("bob", "ann"): (Cutter("+..+-+"), True, ALL), ("bob", "bob"): plain},
+            copies={"ann": Cutter("-..---", "-+..")},
         )
-        self.assertEqual(self.check_question((company, WIDE, "ann", "ann", "above")), (2, 3))
-        found = find_rows(company, WIDE, "ann", "ann", kin="above", most=2)
-        self.assertGreater(len(found[1]), 3)
+        self.assertEqual(self.check_question((company, WIDE, "ann", "bob", "above")), (1, 2))
+        # Every lot with so short rows has more losses than two, so this one, too.
+        self.assertEqual(len(find_rows(company, WIDE, "ann", "bob", kin="above", most=1)[1]), 3)
 
     def test_written_out(self):
         solo = Company(("a",), {("a", "a"): (ALL, True, ALL)})
@@ -410,6 +410,41 @@ class Errors(unittest.TestCase):
         self.assertEqual(least_row(PLAIN, blind, "ann", "bob", kin="above", limit=runs), 0)
         self.check_kept(self.calls(PLAIN, blind, "ann", "bob", "above", 0, runs - 1)[1], TooMany, "limit", runs - 1)
         self.check_kept(lambda: least_losses(PLAIN, blind, "ann", "bob", kin="above", limit=runs), TooMany, "limit", runs)
+
+    def test_limits_of_least_row_by_chance(self):
+        results = set()
+        for company, rule, one, other, kin in (*questions(53, 60, 120, 3), (PLAIN, WIDE, "ann", "bob", "above")):
+            least = least_row(company, rule, one, other, kin=kin, limit=20000)
+            results.add(least)
+            states = len(Walk(company, rule).states())
+            if least is None:
+                needed, counts = states, [states]
+            else:
+                counts = [len(plain_all_runs(company, rule, most)) for most in range(least + 1)]
+                needed = max(counts)
+            for limit in {count + more for count in (*counts, states) for more in (-1, 0, 1) if count + more > 0}:
+                call = lambda: least_row(company, rule, one, other, kin=kin, limit=limit)
+                if limit < needed:
+                    self.check_kept(call, TooMany, "limit", limit)
+                else:
+                    self.assertEqual(call(), least)
+        self.assertTrue({None, 0, 1, 2} <= results, results)
+
+    def test_least_row_looks_no_further_than_its_limit(self):
+        people = ("ann", "bob", "cyd")
+        large = Company(people, {(one, other): (ALL, True, Cutter("++..+++")) for one in people for other in people})
+        looked = []
+        steps = Heads.upon
+        try:
+            Heads.upon = lambda self, state: (looked.append(state), steps(self, state))[1]
+            for cutter, kin in ((NONE, "above"), (LAST, "beside"), (ALL, "above")):
+                for limit in (1, 20, 300):
+                    looked.clear()
+                    call = lambda: least_row(large, Rule(cutter), "ann", "bob", kin=kin, limit=limit)
+                    self.check_kept(call, TooMany, "limit", limit)
+                    self.assertLessEqual(len(looked), 8 * limit)
+        finally:
+            Heads.upon = steps
 
     def test_functions_stand_in_the_module_itself(self):
         for part in (find_rows, is_rows_paper, least_row):

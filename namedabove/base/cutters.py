@@ -58,6 +58,11 @@ def kept_places(parts, many):
     return tuple(places)
 
 
+def keep_all(parts):
+    """Whether parts used one after another keep all of every row."""
+    return all([part == KEEP_ALL for part in parts])
+
+
 def table_of(parts):
     """The kept places of rows of 0 to 6.
 
@@ -74,6 +79,7 @@ class Cutter:
         check_parts(parts)
         self._parts = parts
         self._table = table_of(parts)
+        self._keeps_all = keep_all(parts)
 
     @classmethod
     def of(cls, parts):
@@ -88,6 +94,7 @@ class Cutter:
         both = cls()
         both._parts = one.parts + other.parts
         both._table = table_of(both._parts)
+        both._keeps_all = keep_all(both._parts)
         return both
 
     @property
@@ -98,7 +105,7 @@ class Cutter:
     @property
     def keeps_all(self):
         """Whether all of every row is kept."""
-        return all([part == KEEP_ALL for part in self._parts])
+        return self._keeps_all
 
     def __call__(self, row):
         """The tuple of the kept values of a tuple."""

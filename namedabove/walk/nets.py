@@ -1,92 +1,160 @@
 """Ways through states, or runs, that cost as little as can be, and the lots that they are ways of."""
 
-from heapq import heapify, heappop, heappush
+from heapq import heappop, heappush
 
 from namedabove.read.lots import Lot
 from namedabove.talk.bundles import Bundle
 
+# What a lost letter costs beside what each letter costs: so ways with few losses are cheaper than short ones.
+LOSS = 1048576
 
-def nearest(seeds, edges):
-    """What the cheapest ways cost: a dict from nodes to triples (losses, letters, node before).
 
-    Seeds are such a dict to begin with; edges tell for each node the pairs (node, losses of one letter more).
-    Of ways with as few losses those with the fewest letters are told.
-    """
-    found = dict(seeds)
-    queue = [(seeds[node][0], seeds[node][1], node) for node in seeds]
-    heapify(queue)
-    while queue:
-        losses, letters, node = heappop(queue)
-        if found[node][0] != losses or found[node][1] != letters:
-            continue
-        for near, loss in edges[node]:
-            cost = (losses + loss, letters + 1)
-            if near not in found or cost < (found[near][0], found[near][1]):
-                found[near] = (losses + loss, letters + 1, node)
-                heappush(queue, (losses + loss, letters + 1, near))
-    return found
+class Queue:
+    """Entries by their costs; many have the same, so only the different costs are kept in order."""
+
+    def __init__(self):
+        self.costs = []
+        self._entries = {}
+
+    def put(self, cost, entry):
+        """Put in an entry, which costs more than all that was taken out."""
+        if cost not in self._entries:
+            self._entries[cost] = []
+            heappush(self.costs, cost)
+        self._entries[cost].append(entry)
+
+    def take(self):
+        """The least cost, and the list of all entries that cost so much."""
+        cost = heappop(self.costs)
+        return cost, self._entries.pop(cost)
 
 
 class Net:
-    """Nodes to which steps lead from the first ones: each has a state, its steps, and what a way costs by it.
+    """The nodes, states or runs, to which steps lead on a ground.
 
-    `after` tells all steps of each node, `within` those by answers alone; `places` tells (state, loss) of each.
+    A ground tells the heads of the first letters, for each head the pairs (node, loss) of the letters with
+    it, and for each node the heads of the letters that answer and that take it.
     """
 
-    def __init__(self, walk, first, after, within, places):
-        self._walk = walk
-        self._first = first
-        self._after = after
-        self._within = within
-        self._places = places
+    def __init__(self, company, ground):
+        self._company = company
+        self._ground = ground
+        self._seen = {head: True for head in ground.first()}
+        self._with = {}
+        self._losses = {}
+        self._answers = {}
+        self._all = {}
+        self._heads = {}
+        self._under = {}
 
-    def nodes(self):
-        """The ascending tuple of all nodes."""
-        return tuple(sorted(list(self._after)))
+    def grow(self, limit):
+        """Find all nodes; False, as soon as there are more of them than the limit."""
+        found = self._ground.first()
+        while found:
+            head = found.pop()
+            nodes = self._ground.states(head)
+            self._with[head] = nodes
+            for node, loss in nodes:
+                if node in self._losses:
+                    self._heads[node].append(head)
+                    continue
+                if len(self._losses) == limit:
+                    return False
+                self._losses[node] = loss
+                self._heads[node] = [head]
+                found.extend(self._add_steps(node))
+        return True
 
-    def ends(self, person, colour):
-        """A dict of the nodes in which a letter of this person comes with this colour."""
-        return {node: True for node in self._after if is_end(self._walk, person, colour, self._places[node][0])}
+    def _add_steps(self, node):
+        """Keep the heads upon a node, and return those that are new."""
+        answers, takings = self._ground.upon(node)
+        self._answers[node] = answers
+        self._all[node] = answers + takings if takings else answers
+        for head in answers:
+            if head not in self._under:
+                self._under[head] = []
+            self._under[head].append(node)
+        new = []
+        for head in self._all[node]:
+            if head not in self._seen:
+                self._seen[head] = True
+                new.append(head)
+        return new
+
+    def told(self):
+        """The list of pairs of what is told of a node, ascending, and the node."""
+        return sorted([(self._ground.told(node), node) for node in self._losses])
+
+    def ends(self, people, colour):
+        """The nodes in which a letter of one of these people comes with this colour."""
+        numbers = [self._ground.number_of(person) for person in people]
+        return [node for node in self._losses if self._ground.is_end(node, numbers, colour)]
 
     def costs_to(self):
-        """For each node what the cheapest way to it costs, itself counted."""
-        seeds = {node: (self._places[node][1], 1, None) for node in self._first}
-        edges = {node: [(step, self._places[step][1]) for step in self._after[node]] for node in self._after}
-        return nearest(seeds, edges)
+        """A dict from nodes to pairs (cost, node before) of the cheapest ways to them, themselves counted."""
+        reached = {}
+        passed = {}
+        queue = Queue()
+        for head in self._ground.first():
+            for node, loss in self._with[head]:
+                queue.put(loss * LOSS + 1, (node, None))
+        while queue.costs:
+            cost, entries = queue.take()
+            for node, before in entries:
+                if node not in reached:
+                    reached[node] = (cost, before)
+                    for head in self._all[node]:
+                        # The first way to a head is a cheapest one.
+                        if head not in passed:
+                            passed[head] = True
+                            for near, loss in self._with[head]:
+                                queue.put(cost + loss * LOSS + 1, (near, node))
+        return reached
 
     def costs_from(self, ends):
-        """For each node from which answers lead to an end what the cheapest way there costs, itself not counted."""
-        seeds = {}
-        edges = {node: [] for node in self._within}
-        for node in self._within:
-            for step in self._within[node]:
-                edges[step].append((node, self._places[step][1]))
-                if step in ends:
-                    seeds[node] = (0, 1, step)
-        return nearest(seeds, edges)
+        """A dict from nodes to pairs (cost, next node) of the cheapest ways by answers to ends, these counted alone.
+
+        A node without a way to an end is no key.
+        """
+        onward = {}
+        passed = {}
+        queue = Queue()
+        for end in ends:
+            for head in self._heads[end]:
+                queue.put(1, (head, end))
+        while queue.costs:
+            cost, entries = queue.take()
+            for head, near in entries:
+                if head not in passed:
+                    passed[head] = True
+                    for node in self._under.get(head, ()):
+                        if node not in onward:
+                            onward[node] = (cost, near)
+                            for above in self._heads[node]:
+                                queue.put(cost + self._losses[node] * LOSS + 1, (above, node))
+        return onward
 
     def lot(self, way, branches):
         """The lot of a way, with branches behind its last node, and the mark of the last letter of each branch."""
         nodes = list(way)
         letters = []
         for at, node in enumerate(way):
-            begins = at == 0 or node not in self._within[way[at - 1]]
-            letters.append((self._places[node][0][0], None if at == 0 else at - 1, begins))
+            begins = at == 0 or not self._is_answer(way[at - 1], node)
+            letters.append((self._ground.writer_of(node), None if at == 0 else at - 1, begins))
         lasts = []
         for branch in branches:
             upon = len(way) - 1
             for node in branch:
                 nodes.append(node)
-                letters.append((self._places[node][0][0], upon, False))
+                letters.append((self._ground.writer_of(node), upon, False))
                 upon = len(letters) - 1
             lasts.append(upon)
-        came = [mark for mark, node in enumerate(nodes) if self._walk.comes(self._places[node][0])]
-        return Lot(Bundle.of_many(self._walk.company, tuple(letters)), tuple(came)), lasts
+        came = tuple([mark for mark, node in enumerate(nodes) if not self._ground.loss(node)])
+        return Lot(Bundle.of_many(self._company, tuple(letters)), came), lasts
 
-
-def is_end(walk, person, colour, state):
-    """Whether the state is that of a letter of this person that may come with this colour."""
-    return state[0] == person and state[1] == colour and walk.comes(state)
+    def _is_answer(self, upon, node):
+        """Whether a letter in this node can answer one in the other node."""
+        return any([head in self._answers[upon] for head in self._heads[node]])
 
 
 def way_to(reached, node):
@@ -94,26 +162,25 @@ def way_to(reached, node):
     way = []
     while node is not None:
         way.append(node)
-        node = reached[node][2]
+        node = reached[node][1]
     return way[::-1]
 
 
 def way_from(onward, node):
     """The nodes of the cheapest way from a node to an end, itself not among them."""
     way = []
-    for _ in range(onward[node][1]):
-        node = onward[node][2]
+    for _ in range(onward[node][0] % LOSS):
+        node = onward[node][1]
         way.append(node)
     return way
 
 
 def cheapest(reached, branches, nodes):
-    """The least triple (losses, letters, node) for a way to a node and branches from there; None without one."""
+    """The least pair (cost, node) for a way to a node and branches from there; None without one."""
     best = None
     for node in nodes:
         if all([node in branch for branch in branches]):
-            losses = reached[node][0] + sum([branch[node][0] for branch in branches])
-            letters = reached[node][1] + sum([branch[node][1] for branch in branches])
-            if best is None or (losses, letters, node) < best:
-                best = (losses, letters, node)
+            cost = reached[node][0] + sum([branch[node][0] for branch in branches])
+            if best is None or (cost, node) < best:
+                best = (cost, node)
     return best

@@ -2,18 +2,20 @@
 
 from namedabove.base.companies import check_company
 from namedabove.base.names import is_mark
+from namedabove.errors import TooMany
 from namedabove.read.rules import check_rule
-from namedabove.walk.nets import Net
-from namedabove.walk.questions import ABOVE, KINS, Question, Search, check_losses, check_question, search_on
-from namedabove.walk.states import Walk, check_limit
+from namedabove.walk.heads import Heads
+from namedabove.walk.nets import LOSS, Net
+from namedabove.walk.questions import ABOVE, KINS, Question, Search, check_losses, check_question
+from namedabove.walk.states import check_limit
 
 
-def net_of_states(walk, limit):
+def net_of_states(company, rule, limit):
     """The net of all states to which steps lead, in which ways cost the letters that are lost."""
-    after = walk.all_steps(limit)
-    within = {state: walk.after(state, False) for state in after}
-    places = {state: (state, walk.loss(state)) for state in after}
-    return Net(walk, walk.begins(), after, within, places)
+    net = Net(company, Heads(company, rule))
+    if not net.grow(limit):
+        raise TooMany(limit)
+    return net
 
 
 def find_parted(company, rule, one, other, *, kin, most=None, limit=2000):
@@ -21,19 +23,19 @@ def find_parted(company, rule, one, other, *, kin, most=None, limit=2000):
     check_question(company, rule, one, other, kin)
     check_most(most)
     check_limit(limit)
-    net = net_of_states(Walk(company, rule), limit)
-    search = search_on(net, one, other, kin)
+    net = net_of_states(company, rule, limit)
+    search = Search(net, kin, (one,), (other,))
     least = search.least()
     if least is not None and (most is None or least <= most):
         lot, first, second = search.parting()
         return ("lot", lot, first, second)
-    states = net.nodes()
-    return (
-        "tables",
-        {state: search.reached[state][0] for state in states},
-        {state: search.zero[state][0] if state in search.zero else None for state in states},
-        {state: search.one[state][0] if state in search.one else None for state in states},
-    )
+    states = net.told()
+    return ("tables", *[losses_in(states, costs) for costs in (search.reached, search.zero, search.one)])
+
+
+def losses_in(states, costs):
+    """A dict from the states to the losses that are among these costs, None without a cost."""
+    return {told: costs[state][0] // LOSS if state in costs else None for told, state in states}
 
 
 def is_parted_paper(company, rule, one, other, value, *, kin, most=None):
@@ -47,16 +49,26 @@ def is_parted_paper(company, rule, one, other, value, *, kin, most=None):
         return question.is_parting(told, first, second) and (most is None or len(told) <= most)
     if word != "tables":
         return False
-    if not are_tables(question.walk, told, first, second):
+    heads = Heads(company, rule)
+    so_far, zero, one_table = [read_table(heads, table) for table in (told, first, second)]
+    if so_far is None or zero is None or one_table is None or None in list(so_far.values()):
         return False
-    return are_closed(question, told, first, second) and do_show(question, most, told, first, second)
+    if not are_closed(heads, so_far, [zero, one_table]):
+        return False
+    ends = [state for state in so_far if heads.is_end(state, [heads.number_of(one)], 0)]
+    others = [state for state in so_far if heads.is_end(state, [heads.number_of(other)], 1)]
+    if not is_below(heads, zero, ends) or not is_below(heads, one_table, others):
+        return False
+    if kin == ABOVE:
+        return do_show(most, [so_far, one_table], ends)
+    return do_show(most, [so_far, zero, one_table], list(so_far))
 
 
 def least_losses(company, rule, one, other, *, kin, limit=2000):
     """The least number of losses of a parting of two people; None without one."""
     check_question(company, rule, one, other, kin)
     check_limit(limit)
-    return search_on(net_of_states(Walk(company, rule), limit), one, other, kin).least()
+    return Search(net_of_states(company, rule, limit), kin, (one,), (other,)).least()
 
 
 def least_break(company, rule, *, limit=2000):
@@ -64,15 +76,8 @@ def least_break(company, rule, *, limit=2000):
     check_company(company)
     check_rule(rule)
     check_limit(limit)
-    net = net_of_states(Walk(company, rule), limit)
-    reached = net.costs_to()
-    zero_ends = {person: net.ends(person, 0) for person in company}
-    zero = {person: net.costs_from(zero_ends[person]) for person in company}
-    found = []
-    for other in company:
-        one = net.costs_from(net.ends(other, 1))
-        for person in company:
-            found.extend([Search(net, kin, reached, zero_ends[person], zero[person], one).least() for kin in KINS])
+    net = net_of_states(company, rule, limit)
+    found = [Search(net, kin, company.people, company.people).least() for kin in KINS]
     return min([least for least in found if least is not None], default=None)
 
 
@@ -82,55 +87,60 @@ def check_most(most):
         check_losses(most)
 
 
-def are_tables(walk, so_far, zero, one):
-    """Whether the values are dicts from the same states to integers of at least 0, or None in the last two."""
-    for table in (so_far, zero, one):
-        if not isinstance(table, dict) or not all([walk.is_state(state) for state in table]):
-            return False
-    if len(so_far) != len(zero) or len(so_far) != len(one):
-        return False
-    for state in so_far:
-        if state not in zero or state not in one or not is_mark(so_far[state]):
-            return False
-    return all([table[state] is None or is_mark(table[state]) for table in (zero, one) for state in table])
+def read_table(heads, value):
+    """A dict from states to integers of at least 0, or None, by the numbers of the states; None for other values."""
+    if not isinstance(value, dict):
+        return None
+    states = [heads.state_of(told) for told in value]
+    costs = list(value.values())
+    if None in states or not all([cost is None or is_mark(cost) for cost in costs]):
+        return None
+    return dict(zip(states, costs))
 
 
-def are_closed(question, so_far, zero, one):
-    """Whether tables are closed under one more letter."""
-    walk = question.walk
-    for state in walk.begins():
-        if state not in so_far or so_far[state] > walk.loss(state):
+def are_closed(heads, so_far, tables):
+    """Whether the other tables have the same states, and whether these are closed under one more letter."""
+    for table in tables:
+        if len(table) != len(so_far) or not all([state in table for state in so_far]):
             return False
+    least = {head: 0 for head in heads.first()}
     for state in so_far:
-        for step in walk.after(state, True):
-            if step not in so_far or so_far[step] > so_far[state] + walk.loss(step):
-                return False
-        for step in walk.after(state, False):
-            if not is_below(zero, state, step, question.is_zero_end(step), walk.loss(step)):
-                return False
-            if not is_below(one, state, step, question.is_one_end(step), walk.loss(step)):
+        answers, takings = heads.upon(state)
+        for head in answers + takings:
+            if head not in least or so_far[state] < least[head]:
+                least[head] = so_far[state]
+    for head in least:
+        for state, loss in heads.states(head):
+            if state not in so_far or so_far[state] > least[head] + loss:
                 return False
     return True
 
 
-def is_below(table, state, step, is_end, loss):
-    """Whether what a table tells of a state is at most what it costs to go on by this step."""
-    if is_end and table[state] != 0:
-        return False
-    if table[step] is None:
-        return True
-    return table[state] is not None and table[state] <= loss + table[step]
+def is_below(heads, table, ends):
+    """Whether what a table tells of each state is at most what it costs to go on to an end, by any answer."""
+    is_end = {state: True for state in ends}
+    bounds = {}
+    for state in table:
+        answers, _ = heads.upon(state)
+        for head in answers:
+            if head not in bounds:
+                bounds[head] = bound_of(heads.states(head), table, is_end)
+            if bounds[head] is not None and (table[state] is None or table[state] > bounds[head]):
+                return False
+    return True
 
 
-def do_show(question, most, so_far, zero, one):
+def bound_of(states, table, is_end):
+    """The least that a table tells of going on by one of these states to an end; None for no way."""
+    if any([state in is_end for state, _ in states]):
+        return 0
+    return min([loss + table[state] for state, loss in states if table[state] is not None], default=None)
+
+
+def do_show(most, tables, states):
     """Whether tables show that a parting needs more than so many losses, or, for None, that there is none."""
-    for state in so_far:
-        if question.kin != ABOVE:
-            costs = [so_far[state], zero[state], one[state]]
-        elif question.is_zero_end(state):
-            costs = [so_far[state], one[state]]
-        else:
-            costs = [None]
+    for state in states:
+        costs = [table[state] for table in tables]
         if None not in costs and (most is None or sum(costs) <= most):
             return False
     return True

@@ -5,8 +5,7 @@ from namedabove.base.names import is_whole
 from namedabove.errors import InvalidNumber, InvalidOperation
 from namedabove.read.lots import Lot, together
 from namedabove.read.rules import check_rule
-from namedabove.walk.nets import cheapest, is_end, way_from, way_to
-from namedabove.walk.states import Walk
+from namedabove.walk.nets import LOSS, cheapest, way_from, way_to
 
 ABOVE = "above"
 KINS = ("above", "beside")
@@ -34,61 +33,55 @@ class Question:
 
     def __init__(self, company, rule, one, other, kin):
         check_question(company, rule, one, other, kin)
-        self.walk = Walk(company, rule)
-        self.one = one
-        self.other = other
-        self.kin = kin
-
-    def is_zero_end(self, state):
-        """Whether the state is an end for 0."""
-        return is_end(self.walk, self.one, 0, state)
-
-    def is_one_end(self, state):
-        """Whether the state is an end for 1."""
-        return is_end(self.walk, self.other, 1, state)
+        self._company = company
+        self._rule = rule
+        self._one = one
+        self._other = other
+        self._kin = kin
 
     def is_kin(self, bundle, first, second):
         """Whether two letters of a bundle stand to one another as is asked."""
         last = bundle.parting(first, second)
-        if self.kin == ABOVE:
+        if self._kin == ABOVE:
             return first != second and last == first
         return last not in (None, first, second)
 
     def is_parting(self, lot, first, second):
         """Whether the values are a parting of the two people, with its letters."""
-        if not isinstance(lot, Lot) or lot.bundle.company != self.walk.company:
+        if not isinstance(lot, Lot) or lot.bundle.company != self._company:
             return False
         if first not in lot or second not in lot:
             return False
         bundle = lot.bundle
-        if bundle[first][0] != self.one or bundle[second][0] != self.other:
+        if bundle[first][0] != self._one or bundle[second][0] != self._other:
             return False
         if bundle.talk_of(first) != bundle.talk_of(second) or not self.is_kin(bundle, first, second):
             return False
-        return not together(self.walk.rule, lot, first, second)
+        return not together(self._rule, lot, first, second)
 
 
 class Search:
-    """The cheapest parting of a kin on a net; it is told what ways to nodes and on to ends for 0 and 1 cost."""
+    """The cheapest parting of a kin on a net, of a letter of one of some people and one of some others."""
 
-    def __init__(self, net, kin, reached, zero_ends, zero, one):
+    def __init__(self, net, kin, people, others):
         self._net = net
         self._kin = kin
-        self.reached = reached
-        self.zero = zero
-        self.one = one
+        ends = net.ends(people, 0)
+        self.reached = net.costs_to()
+        self.zero = net.costs_from(ends)
+        self.one = net.costs_from(net.ends(others, 1))
         if kin == ABOVE:
-            self._best = cheapest(reached, [one], list(zero_ends))
+            self._best = cheapest(self.reached, [self.one], ends)
         else:
-            self._best = cheapest(reached, [zero, one], list(reached))
+            self._best = cheapest(self.reached, [self.zero, self.one], list(self.reached))
 
     def least(self):
-        """The least cost of a parting; None without one."""
-        return None if self._best is None else self._best[0]
+        """The least number of losses of a parting; None without one."""
+        return None if self._best is None else self._best[0] // LOSS
 
     def parting(self):
         """The lot of a cheapest parting, and its two letters."""
-        node = self._best[2]
+        node = self._best[1]
         way = way_to(self.reached, node)
         branches = [way_from(self.one, node)]
         if self._kin != ABOVE:
@@ -96,9 +89,3 @@ class Search:
         lot, lasts = self._net.lot(way, branches)
         first = len(way) - 1 if self._kin == ABOVE else lasts[0]
         return lot, first, lasts[-1]
-
-
-def search_on(net, one, other, kin):
-    """The search for letters of two people."""
-    ends = net.ends(one, 0)
-    return Search(net, kin, net.costs_to(), ends, net.costs_from(ends), net.costs_from(net.ends(other, 1)))

@@ -6,6 +6,8 @@ from namedabove.base.names import is_ascending, is_whole
 # The colour of the marks of lost letters where the rule does not see them; rows between leave it out.
 LOST = 2
 
+NO_MARKS = ((), (), ())
+
 
 def short_form(row):
     """The short form of a tuple of integers."""
@@ -45,6 +47,15 @@ def one_longer(short, colour):
     if moved != LOST and moved not in between:
         between = tuple(sorted([*between, moved]))
     return (row, between, (*last[1:], colour))
+
+
+def short_behind(turn, short, own):
+    """The short form of the list of a letter that is written with a turn upon one of this colour and list."""
+    road, adds, cutter = turn
+    short = cut_short(road, short)
+    if adds:
+        short = one_longer(short, own)
+    return cut_short(cutter, short)
 
 
 def is_colours(value, top):
