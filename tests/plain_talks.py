@@ -47,6 +47,19 @@ def possible_letters(company, letters):
     return told
 
 
+def rows_that_grow(company, many, may_follow):
+    """The rows of up to so many letters that hang together, in which each letter may follow those before it."""
+    rows = [((person, None, True),) for person in company.starts]
+    found = []
+    while rows:
+        found += rows
+        rows = [
+            (*row, letter) for row in rows if len(row) < many for letter in possible_letters(company, row)
+            if letter[1] is not None and may_follow(row, letter)
+        ]
+    return found
+
+
 def some_letters(chance, company, many):
     """So many letters by chance, rather upon late ones than upon early ones."""
     letters = []

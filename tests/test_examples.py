@@ -13,6 +13,10 @@ IMPORTS = """
 >>> from namedabove.walk.states import MAX_STATES, Walk
 >>> from namedabove.walk.parted import find_parted, is_parted_paper, least_losses, least_break
 >>> from namedabove.walk.rows import find_rows, is_rows_paper, least_row
+>>> from namedabove.walk.mixed import find_mixed, is_mixing, is_mixed_paper, mixed_pairs
+>>> from namedabove.walk.alike import find_unlike, are_alike, is_alike_paper, binds_more
+>>> from namedabove.walk.places import (
+...     find_wrong, find_missed, is_wrong_paper, is_missed_paper, are_shown_alike, places_in)
 """
 
 VALUES = """
@@ -82,7 +86,28 @@ ROWS = """
 [2, 'sets', 2]
 """
 
-SECTIONS = (IMPORTS, VALUES, CUTTERS, COMPANIES, BUNDLES, RULES, LOTS, STATES, PARTED, ROWS)
+MIXED = """
+>>> word, three, first, second = find_mixed(TAKES, NARROW)
+>>> [word, len(three.bundle), is_mixing(PLAIN, WIDE), len(find_mixed(PLAIN, WIDE)[1]), mixed_pairs(NARROW, Lot(talk, (0, 3, 4)))]
+['lot', 3, False, 9, ((3, 4),)]
+"""
+
+ALIKE = """
+>>> word, three, first, second = find_unlike(PLAIN, WIDE, NARROW)
+>>> [word, len(three.bundle), len(three), [len(part) for part in find_unlike(PLAIN, WIDE, Rule(TWO, sees_lost=True))[1:]]]
+['lot', 3, 1, [4, 16]]
+>>> [binds_more(PLAIN, NARROW, WIDE), binds_more(PLAIN, WIDE, Rule(TWO)), are_alike(PLAIN, Rule(ALL), Rule(TWO))]
+[True, False, True]
+"""
+
+PLACES = """
+>>> [len(find_wrong(PLAIN, NARROW)[1]), len(find_wrong(PLAIN, Rule(FIRST))[1].bundle), len(find_missed(PLAIN, WIDE)[1].bundle)]
+[5, 3, 4]
+>>> [are_shown_alike(PLAIN, WIDE, Rule(TWO)), places_in(NARROW, Lot(talk, (0, 2, 3, 4)))]
+[True, {0: 'right', 2: 'missed', 3: 'right', 4: 'wrong'}]
+"""
+
+SECTIONS = (IMPORTS, VALUES, CUTTERS, COMPANIES, BUNDLES, RULES, LOTS, STATES, PARTED, ROWS, MIXED, ALIKE, PLACES)
 
 
 class Examples(unittest.TestCase):

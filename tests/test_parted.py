@@ -12,7 +12,7 @@ from namedabove.talk.bundles import Bundle
 from namedabove.walk.parted import find_parted, is_parted_paper, least_break, least_losses
 from namedabove.walk.states import Walk
 from tests.plain_lots import is_plain_parting, some_lot
-from tests.plain_talks import possible_letters, some_company, some_rule
+from tests.plain_talks import rows_that_grow, some_company, some_rule
 from tests.plain_walks import are_plain_tables, plain_colours, plain_states
 from tests.values import several
 
@@ -39,15 +39,7 @@ def questions(seed, many, most_states=250, most_people=2):
 
 def single_trees(company, many):
     """The rows of up to so many letters that hang together, each letter behind those written upon earlier ones."""
-    rows = [((person, None, True),) for person in company.starts]
-    found = []
-    while rows:
-        found += rows
-        rows = [
-            (*row, letter) for row in rows if len(row) < many for letter in possible_letters(company, row)
-            if letter[1] is not None and letter[1] >= (row[-1][1] or 0)
-        ]
-    return found
+    return rows_that_grow(company, many, lambda row, letter: letter[1] >= (row[-1][1] or 0))
 
 
 def subsets(marks):

@@ -2,37 +2,10 @@
 
 from namedabove.base.companies import MAX_PEOPLE
 from namedabove.base.names import is_whole
-from namedabove.walk.shorts import LOST, NO_MARKS, all_kept, is_short, short_behind
+from namedabove.walk.kinds import Kinds
+from namedabove.walk.shorts import LOST, NO_MARKS, all_kept, colours_behind, is_short
 
 COLOURS = 3
-
-
-class Kinds:
-    """The different turns of a company by numbers; most pairs of people have turns that others have, too."""
-
-    def __init__(self, company):
-        self.turns = []
-        self._numbers = {}
-        self.from_answers = [self._turns_from(company, person, False) for person in company]
-        self.from_takings = [self._turns_from(company, person, True) for person in company]
-
-    def _turns_from(self, company, person, takes):
-        """The pairs (number of the answerer, number of the turn) for letters of this person."""
-        found = []
-        for at, other in enumerate(company.people):
-            turn = company.turn(person, other, takes=takes)
-            if turn is not None:
-                found.append((at, self._number(turn)))
-        return found
-
-    def _number(self, turn):
-        """The number of a turn."""
-        road, adds, cutter = turn
-        key = (road.parts, adds, cutter.parts)
-        if key not in self._numbers:
-            self._numbers[key] = len(self.turns)
-            self.turns.append(turn)
-        return self._numbers[key]
 
 
 class Heads:
@@ -46,9 +19,12 @@ class Heads:
         self._people = company.people
         self._places = {person: at for at, person in enumerate(company.people)}
         self._starts = [self._places[person] for person in company.starts]
-        self._top = 1 if rule.sees_lost else LOST
+        self._colours = (0, 1) if rule.sees_lost else (0, 1, LOST)
+        self._left_out = None if rule.sees_lost else LOST
         self._through = [rule.through(company, person) for person in company]
         self._kinds = Kinds(company)
+        self._answers = [self._steps_from(person, False) for person in company]
+        self._takings = [self._steps_from(person, True) for person in company]
         self._shorts = []
         self._numbers = {}
         self._texts = {}
@@ -68,10 +44,10 @@ class Heads:
             short, person = divmod(head, MAX_PEOPLE)
             kept = all_kept(self._through[person], self._shorts[short])
             found = []
-            for own in range(self._top + 1):
+            for own in self._colours:
                 loss = 1 if own == LOST or 1 - own in kept else 0
                 # If the rule does not see lost marks, no letter has a colour with which it may not come.
-                if self._top != LOST or own == LOST or not loss:
+                if self._left_out is None or own == LOST or not loss:
                     found.append((head * COLOURS + own, loss))
                     self._losses[head * COLOURS + own] = loss
             self._with[head] = tuple(found)
@@ -82,8 +58,8 @@ class Heads:
         if state not in self._upon:
             head, own = divmod(state, COLOURS)
             short, person = divmod(head, MAX_PEOPLE)
-            answers = self._heads_behind(self._kinds.from_answers[person], short, own)
-            self._upon[state] = (answers, self._heads_behind(self._kinds.from_takings[person], short, own))
+            answers = self._heads_behind(self._answers[person], short, own)
+            self._upon[state] = (answers, self._heads_behind(self._takings[person], short, own))
         return self._upon[state]
 
     def is_end(self, state, people, colour):
@@ -119,7 +95,7 @@ class Heads:
         # Not every value can be a key, and 1 as a key is found by True, too; what is written of them differs.
         text = repr(short)
         if text not in self._texts:
-            if not is_short(short, self._top):
+            if not is_short(short, self._colours, self._left_out):
                 return None
             self._texts[text] = self._number(short)
         head = self._texts[text] * MAX_PEOPLE + self._places[person]
@@ -128,13 +104,17 @@ class Heads:
         state = head * COLOURS + own
         return state if 0 <= own < COLOURS and state in self._losses else None
 
+    def _steps_from(self, person, takes):
+        """The pairs (number of the writer, number of the turn) of answers upon letters of a person, or of takings."""
+        return [(self._places[other], kind) for other, taken, kind in self._kinds.by_person[person] if taken == takes]
+
     def _heads_behind(self, turns, short, own):
         """The heads of letters that are written with these turns upon one with this list and colour."""
         found = []
         for person, kind in turns:
             behind = self._behind[kind * COLOURS + own]
             if short not in behind:
-                told = short_behind(self._kinds.turns[kind], self._shorts[short], own)
+                told = colours_behind(self._kinds.turns[kind], self._shorts[short], own)
                 behind[short] = self._number(told) * MAX_PEOPLE
             found.append(behind[short] + person)
         return found

@@ -157,15 +157,6 @@ class Net:
         return any([head in self._answers[upon] for head in self._heads[node]])
 
 
-def way_to(reached, node):
-    """The nodes of the cheapest way to a node, itself the last one."""
-    way = []
-    while node is not None:
-        way.append(node)
-        node = reached[node][1]
-    return way[::-1]
-
-
 def way_from(onward, node):
     """The nodes of the cheapest way from a node to an end, itself not among them."""
     way = []

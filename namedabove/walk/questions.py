@@ -5,7 +5,8 @@ from namedabove.base.names import is_whole
 from namedabove.errors import InvalidNumber, InvalidOperation
 from namedabove.read.lots import Lot, together
 from namedabove.read.rules import check_rule
-from namedabove.walk.nets import LOSS, cheapest, way_from, way_to
+from namedabove.walk.nets import LOSS, cheapest, way_from
+from namedabove.walk.paths import path_to
 
 ABOVE = "above"
 KINS = ("above", "beside")
@@ -82,7 +83,7 @@ class Search:
     def parting(self):
         """The lot of a cheapest parting, and its two letters."""
         node = self._best[1]
-        way = way_to(self.reached, node)
+        way = path_to(self.reached, node)
         branches = [way_from(self.one, node)]
         if self._kin != ABOVE:
             branches = [way_from(self.zero, node), *branches]

@@ -16,14 +16,14 @@ def short_form(row):
     return (row[:MAX_FRONT], tuple(sorted({number for number in row[MAX_FRONT:-MAX_BACK]})), row[-MAX_BACK:])
 
 
-def colour_form(row):
-    """The short form of a tuple of colours."""
-    first, between, last = short_form(row)
-    return (first, tuple([colour for colour in between if colour != LOST]), last)
+def without_lost(short):
+    """A short form of colours without that of lost letters between the first and the last ones."""
+    row, between, last = short
+    return (row, tuple([colour for colour in between if colour != LOST]), last)
 
 
 def all_kept(cutter, short):
-    """The colours of a short form that a cutter keeps, those between perhaps as fewer than they are."""
+    """The integers of a short form that a cutter keeps, those between perhaps as fewer than they are."""
     row, between, last = short
     if cutter.keeps_all:
         return row + between + last
@@ -31,26 +31,29 @@ def all_kept(cutter, short):
 
 
 def cut_short(cutter, short):
-    """The short form of what a cutter keeps of a row of colours with this short form."""
+    """The short form of what a cutter keeps of a row with this short form."""
     if cutter.keeps_all:
         return short
     row, _, last = short
     return (cut(cutter, row + last), (), ())
 
 
-def one_longer(short, colour):
-    """The short form of a row of colours with this short form and one more colour behind it."""
+def one_longer(short, number):
+    """The short form of a row with this short form and one more integer behind it."""
     row, between, last = short
     if not last:
-        return colour_form((*row, colour))
+        return short_form((*row, number))
     moved = last[0]
-    if moved != LOST and moved not in between:
+    if moved not in between:
         between = tuple(sorted([*between, moved]))
-    return (row, between, (*last[1:], colour))
+    return (row, between, (*last[1:], number))
 
 
 def short_behind(turn, short, own):
-    """The short form of the list of a letter that is written with a turn upon one of this colour and list."""
+    """The short form of the list of a letter that is written with a turn upon one with this list.
+
+    The mark of the letter that is written upon stands there as this integer.
+    """
     road, adds, cutter = turn
     short = cut_short(road, short)
     if adds:
@@ -58,20 +61,25 @@ def short_behind(turn, short, own):
     return cut_short(cutter, short)
 
 
-def is_colours(value, top):
-    """Whether the value is a tuple of integers from 0 to the top."""
-    return isinstance(value, tuple) and all([is_whole(colour) and 0 <= colour <= top for colour in value])
+def colours_behind(turn, short, own):
+    """The short form of the colours of the list of a letter that is written with a turn upon one with these."""
+    return without_lost(short_behind(turn, short, own))
 
 
-def is_short(value, top):
-    """Whether the value is the short form of some row of colours from 0 to the top."""
+def is_row_of(value, numbers):
+    """Whether the value is a tuple of some of these integers."""
+    return isinstance(value, tuple) and all([is_whole(number) and number in numbers for number in value])
+
+
+def is_short(value, numbers, left_out=None):
+    """Whether the value is the short form of some row of these integers, where one can be left out between."""
     if not isinstance(value, tuple) or len(value) != 3:
         return False
     row, between, last = value
-    if not is_colours(row, top) or not is_colours(between, 1) or not is_colours(last, top):
+    if not is_row_of(row, numbers) or not is_row_of(between, numbers) or not is_row_of(last, numbers):
         return False
-    if not last:
-        return not between and len(row) <= REACH
+    if last == ():
+        return between == () and len(row) <= REACH
     if len(row) != MAX_FRONT or len(last) != MAX_BACK or not is_ascending(between):
         return False
-    return top == LOST or len(between) > 0
+    return between != () if left_out is None else left_out not in between

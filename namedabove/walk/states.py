@@ -7,7 +7,7 @@ from namedabove.read.rules import check_rule
 from namedabove.talk.bundles import check_bundle, check_mark
 from namedabove.walk.heads import Heads
 from namedabove.walk.nets import Net
-from namedabove.walk.shorts import LOST, colour_form, is_colours, short_form
+from namedabove.walk.shorts import LOST, is_row_of, short_form, without_lost
 
 MAX_STATES = 20000
 
@@ -20,7 +20,7 @@ class Walk:
         check_rule(rule)
         self._company = company
         self._rule = rule
-        self._top = 1 if rule.sees_lost else LOST
+        self._colours = (0, 1) if rule.sees_lost else (0, 1, LOST)
         self._heads = Heads(company, rule)
 
     @property
@@ -80,7 +80,7 @@ class Walk:
         check_mark(bundle, mark)
         if not self._are_colours(bundle, mark, colours):
             raise InvalidOperation("the value is no dict of the colours that are needed")
-        short = colour_form(tuple([colours[above] for above in bundle.list_of(mark)]))
+        short = without_lost(short_form(tuple([colours[above] for above in bundle.list_of(mark)])))
         state = (bundle[mark][0], colours[mark], short)
         if not self.is_state(state):
             raise InvalidState("a letter with this colour came, and is bound to a mark of the other one")
@@ -104,7 +104,7 @@ class Walk:
         if not isinstance(value, dict):
             return False
         for other in value:
-            if not is_mark_below(other, len(bundle)) or not is_colours((value[other],), self._top):
+            if not is_mark_below(other, len(bundle)) or not is_row_of((value[other],), self._colours):
                 return False
         return all([above in value for above in (*bundle.way_of(mark), mark)])
 
