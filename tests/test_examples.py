@@ -17,6 +17,12 @@ IMPORTS = """
 >>> from namedabove.walk.alike import find_unlike, are_alike, is_alike_paper, binds_more
 >>> from namedabove.walk.places import (
 ...     find_wrong, find_missed, is_wrong_paper, is_missed_paper, are_shown_alike, places_in)
+>>> from namedabove.walk.helpers import helped, helpers, helps, help_table
+>>> from namedabove.live.inbox import Inbox, arrival, arrivals
+>>> from namedabove.text.formats import (
+...     cutter_text, rule_text, turn_text, company_text, bundle_text, lot_text, inbox_text, read_cutter, read_rule, read_turn,
+...     read_company, read_bundle, read_lot, read_inbox)
+>>> from namedabove.live.desk import Desk
 """
 
 VALUES = """
@@ -107,7 +113,43 @@ PLACES = """
 [True, {0: 'right', 2: 'missed', 3: 'right', 4: 'wrong'}]
 """
 
-SECTIONS = (IMPORTS, VALUES, CUTTERS, COMPANIES, BUNDLES, RULES, LOTS, STATES, PARTED, ROWS, MIXED, ALIKE, PLACES)
+HELPERS = """
+>>> [helpers(PLAIN, WIDE, "ann", "bob", kin="above", most=1), helpers(PLAIN, WIDE, "ann", "bob", kin="above", most=2), helpers(PLAIN, NARROW, "ann", "ann", kin="above")]
+[((),), (('ann', 'bob'),), ()]
+>>> [helps(PLAIN, WIDE, "ann", "bob", ("bob",), kin="above", most=2), help_table(PLAIN, WIDE, kin="above")[("bob", "ann")]]
+[False, 2]
+"""
+
+INBOX = """
+>>> inbox = Inbox.of(WIDE, arrivals(lot))
+>>> [inbox.groups, inbox.receive(arrival(talk, 2), arrival(talk, 0)), inbox.groups, inbox.shown(3), inbox.moves(3), inbox.chain(0, 4)]
+[((0,), (3, 4)), 1, ((0, 2, 3, 4),), 2, 1, (0, 2, 3, 4)]
+>>> [str(inbox), inbox.undo(), 2 in inbox, inbox.redo(), inbox[3]]
+['inbox of 4 letters, 1 groups', 1, False, 2, (3, 'bob', (1, 2))]
+"""
+
+FORMATS = """
+>>> print(company_text(TAKES))
+people ann bob
+starts ann
+answer ann bob: all | adds | ..++
+answer bob ann: all | adds | ..++
+taking bob ann: all | adds | ..+
+>>> [lot_text(lot), inbox_text(Inbox.of(WIDE, arrivals(lot))), rule_text(NARROW)]
+['ann\\nbob < 0 lost\\nann < 1 lost\\nbob < 2\\nann new 3', 'sees all\\n0 ann:\\n3 bob: 1 2\\n4 ann: 3', 'skips ..+']
+>>> [read_company(company_text(TAKES)) == TAKES, read_bundle(TAKES, bundle_text(talk)) == talk]
+[True, True]
+"""
+
+DESK = """
+>>> desk = Desk(PLAIN, WIDE)
+>>> [desk.pledge("firm", ("whole", "ann", "bob", "above", 1)), desk.answer("bob", "ann", (ALL, True, ALL)), desk.pledge("pure", ("pure",)), str(desk)]
+[1, 2, 3, 'desk of 2 people, 2 pledges, version 3']
+>>> [desk.undo(many=2), list(desk.pledges), desk.paper("firm")[0], desk.company == PLAIN, desk.use(WIDE)]
+[1, ['firm'], 'tables', True, 1]
+"""
+
+SECTIONS = (IMPORTS, VALUES, CUTTERS, COMPANIES, BUNDLES, RULES, LOTS, STATES, PARTED, ROWS, MIXED, ALIKE, PLACES, HELPERS, INBOX, FORMATS, DESK)
 
 
 class Examples(unittest.TestCase):

@@ -78,7 +78,7 @@ class Statements(unittest.TestCase):
     def test_kinds_that_are_not_used(self):
         barred = (
             ast.Global, ast.AsyncFunctionDef, ast.Await, ast.Import, ast.Set, ast.SetComp, ast.GeneratorExp, ast.Yield,
-            ast.YieldFrom, ast.Match, ast.NamedExpr, ast.Try, ast.Assert, ast.Div, ast.AnnAssign, ast.With, ast.Nonlocal,
+            ast.YieldFrom, ast.Match, ast.NamedExpr, ast.Assert, ast.Div, ast.AnnAssign, ast.Nonlocal, ast.ExceptHandler,
         )
         for path, tree in TREES.items():
             for node in nodes_of(tree, *barred):
@@ -88,6 +88,22 @@ class Statements(unittest.TestCase):
                     isinstance(call.func, ast.Name) and call.func.id in ("len", "sorted") and call.args == [node]
                     for call in nodes_of(tree, ast.Call)
                 ), (path, node.lineno))
+
+    def test_blocks_with_an_end(self):
+        for path, tree in TREES.items():
+            for node in nodes_of(tree, ast.With):
+                for item in node.items:
+                    self.assertIsInstance(item.context_expr, (ast.Call, ast.Name, ast.Attribute), (path, node.lineno))
+                    self.assertIsInstance(item.optional_vars, (ast.Name, type(None)), (path, node.lineno))
+            ends = [row for node in nodes_of(tree, ast.Try) for row in node.finalbody]
+            for node in nodes_of(tree, ast.FunctionDef):
+                if node.name == "__exit__":
+                    ends += node.body
+            for row in ends:
+                self.assertIsInstance(row, ast.Assign, (path, row.lineno))
+                self.assertEqual(len(row.targets), 1, (path, row.lineno))
+                for part in (row.targets[0], row.value):
+                    self.assertIsInstance(part, (ast.Name, ast.Attribute, ast.Constant), (path, row.lineno))
 
     def test_module_level(self):
         for path, tree in TREES.items():
@@ -162,7 +178,8 @@ class Names(unittest.TestCase):
                 for node in shape.body:
                     if isinstance(node, ast.FunctionDef):
                         words = [word.id for word in node.decorator_list if isinstance(word, ast.Name)]
-                        (properties if "property" in words else methods).add(node.name)
+                        if not any(isinstance(word, ast.Attribute) and word.attr == "setter" for word in node.decorator_list):
+                            (properties if "property" in words else methods).add(node.name)
             for node in nodes_of(tree, ast.Attribute):
                 if isinstance(node.ctx, ast.Store):
                     attributes.add(node.attr)

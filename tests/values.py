@@ -2,6 +2,8 @@
 
 from namedabove.base.companies import Company
 from namedabove.base.cutters import Cutter
+from namedabove.live.desk import Desk
+from namedabove.live.inbox import Inbox
 from namedabove.read.lots import Lot
 from namedabove.read.rules import Rule
 from namedabove.talk.bundles import Bundle
@@ -29,6 +31,7 @@ def objects():
         Cutter(), Cutter("all"), Cutter("+-..-+"), solo, pair, bundle, Bundle(pair),
         Rule(Cutter()), Rule(Cutter("..+"), sees_lost=True), Lot(bundle, (1,)), Lot(Bundle(pair), ()),
         Walk(solo, Rule(Cutter())), Walk(pair, Rule(Cutter("..+"), sees_lost=True)),
+        Inbox(Rule(Cutter())), Inbox(Rule(Cutter("..+")), (1, "a", (0,))), Desk(solo, Rule(Cutter())),
     ]
 
 

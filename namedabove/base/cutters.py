@@ -89,13 +89,13 @@ class Cutter:
         return cls(*parts)
 
     @classmethod
-    def of_both(cls, one, other):
-        """First the one, then the other one; here there can be more than four parts."""
-        both = cls()
-        both._parts = one.parts + other.parts
-        both._table = table_of(both._parts)
-        both._keeps_all = keep_all(both._parts)
-        return both
+    def of_any(cls, parts):
+        """The cutter with a tuple of what is known to be parts; here there can be more than four."""
+        cutter = cls()
+        cutter._parts = parts
+        cutter._table = table_of(parts)
+        cutter._keeps_all = keep_all(parts)
+        return cutter
 
     @property
     def parts(self):

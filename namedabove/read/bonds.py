@@ -35,12 +35,11 @@ def near_by_lost(bound, binders, letter, passed):
 
 def near_by_came(bound, binders, letter):
     """The letters that are bound to a letter, and those that it is bound to."""
-    return [mark for mark in bound[letter] if mark in bound] + binders.get(letter, [])
+    return [*[mark for mark in bound[letter] if mark in bound], *binders.get(letter, ())]
 
 
-def near_of(sees_lost, bound, letter):
+def near_of(sees_lost, bound, binders, letter):
     """The ascending tuple of the neighbours of a letter."""
-    binders = binders_of(bound)
     near = near_by_lost(bound, binders, letter, {}) if sees_lost else near_by_came(bound, binders, letter)
     return tuple(sorted({other for other in near if other != letter}))
 
@@ -48,7 +47,7 @@ def near_of(sees_lost, bound, letter):
 def spread(sees_lost, bound, binders, first):
     """The letters that rows of neighbours lead to from the first one, each with the one before it.
 
-    The rows are as short as can be.
+    The rows are as short as can be, and letters with shorter rows come first.
     """
     before = {first: None}
     passed = {}
@@ -87,3 +86,18 @@ def chain_between(sees_lost, bound, first, second):
     while row[-1] != first:
         row.append(before[row[-1]])
     return tuple(row[::-1])
+
+
+def least_chain(sees_lost, bound, binders, first, second):
+    """Of the shortest rows of neighbours from the first letter to the second one the least; None if they are apart."""
+    before = spread(sees_lost, bound, binders, second)
+    if first not in before:
+        return None
+    far = {}
+    for letter in before:
+        far[letter] = 0 if before[letter] is None else far[before[letter]] + 1
+    row = [first]
+    while row[-1] != second:
+        nearer = [mark for mark in near_of(sees_lost, bound, binders, row[-1]) if far[mark] < far[row[-1]]]
+        row.append(nearer[0])
+    return tuple(row)

@@ -108,7 +108,8 @@ def neighbours(rule, lot, mark):
     """The ascending tuple of the neighbours of a letter that came."""
     check_reading(rule, lot)
     check_came(lot, mark)
-    return near_of(rule.sees_lost, bound_marks(rule, lot), mark)
+    bound = bound_marks(rule, lot)
+    return near_of(rule.sees_lost, bound, binders_of(bound), mark)
 
 
 def chain(rule, lot, first, second):

@@ -40,7 +40,7 @@ class Rule:
         """The cutter that keeps what is bound of a list of this person."""
         check_company(company)
         check_person(company, person)
-        return Cutter.of_both(company.copy(person), self._cutter)
+        return Cutter.of_any(company.copy(person).parts + self._cutter.parts)
 
     def seeing(self):
         """The rule with the same cutter that sees lost marks."""

@@ -46,6 +46,8 @@ class Net:
         self._all = {}
         self._heads = {}
         self._under = {}
+        self._reached = None
+        self._onward = {}
 
     def grow(self, limit):
         """Find all nodes; False, as soon as there are more of them than the limit."""
@@ -92,6 +94,21 @@ class Net:
 
     def costs_to(self):
         """A dict from nodes to pairs (cost, node before) of the cheapest ways to them, themselves counted."""
+        if self._reached is None:
+            self._reached = self._find_costs_to()
+        return self._reached
+
+    def costs_from(self, people, colour):
+        """A dict from nodes to pairs (cost, next node) of the cheapest ways by answers to ends, these counted alone.
+
+        A node without a way to an end is no key.
+        """
+        if (people, colour) not in self._onward:
+            self._onward[people, colour] = self._find_costs_from(self.ends(people, colour))
+        return self._onward[people, colour]
+
+    def _find_costs_to(self):
+        """What costs_to tells."""
         reached = {}
         passed = {}
         queue = Queue()
@@ -111,11 +128,8 @@ class Net:
                                 queue.put(cost + loss * LOSS + 1, (near, node))
         return reached
 
-    def costs_from(self, ends):
-        """A dict from nodes to pairs (cost, next node) of the cheapest ways by answers to ends, these counted alone.
-
-        A node without a way to an end is no key.
-        """
+    def _find_costs_from(self, ends):
+        """What costs_from tells for these ends."""
         onward = {}
         passed = {}
         queue = Queue()

@@ -2,20 +2,12 @@
 
 from namedabove.base.companies import check_company
 from namedabove.base.names import is_mark
-from namedabove.errors import TooMany
 from namedabove.read.rules import check_rule
 from namedabove.walk.heads import Heads
-from namedabove.walk.nets import LOSS, Net
-from namedabove.walk.questions import ABOVE, KINS, Question, Search, check_losses, check_question
+from namedabove.walk.nets import LOSS
+from namedabove.walk.questions import ABOVE, KINS, Question, check_most, check_question
+from namedabove.walk.searches import Searches
 from namedabove.walk.states import check_limit
-
-
-def net_of_states(company, rule, limit):
-    """The net of all states to which steps lead, in which ways cost the letters that are lost."""
-    net = Net(company, Heads(company, rule))
-    if not net.grow(limit):
-        raise TooMany(limit)
-    return net
 
 
 def find_parted(company, rule, one, other, *, kin, most=None, limit=2000):
@@ -23,13 +15,15 @@ def find_parted(company, rule, one, other, *, kin, most=None, limit=2000):
     check_question(company, rule, one, other, kin)
     check_most(most)
     check_limit(limit)
-    net = net_of_states(company, rule, limit)
-    search = Search(net, kin, (one,), (other,))
-    least = search.least()
-    if least is not None and (most is None or least <= most):
-        lot, first, second = search.parting()
-        return ("lot", lot, first, second)
-    states = net.told()
+    return parted_paper(Searches(company, rule, limit), one, other, kin, most)
+
+
+def parted_paper(searches, one, other, kin, most):
+    """A parting with at most so many losses, or tables that show that there is none."""
+    search = searches.on_states(one, other, kin)
+    if search.is_within(most):
+        return search.parting()
+    states = search.told()
     return ("tables", *[losses_in(states, costs) for costs in (search.reached, search.zero, search.one)])
 
 
@@ -68,7 +62,7 @@ def least_losses(company, rule, one, other, *, kin, limit=2000):
     """The least number of losses of a parting of two people; None without one."""
     check_question(company, rule, one, other, kin)
     check_limit(limit)
-    return Search(net_of_states(company, rule, limit), kin, (one,), (other,)).least()
+    return Searches(company, rule, limit).on_states(one, other, kin).least()
 
 
 def least_break(company, rule, *, limit=2000):
@@ -76,15 +70,9 @@ def least_break(company, rule, *, limit=2000):
     check_company(company)
     check_rule(rule)
     check_limit(limit)
-    net = net_of_states(company, rule, limit)
-    found = [Search(net, kin, company.people, company.people).least() for kin in KINS]
+    searches = Searches(company, rule, limit)
+    found = [searches.for_some(company.people, company.people, kin).least() for kin in KINS]
     return min([least for least in found if least is not None], default=None)
-
-
-def check_most(most):
-    """Raise InvalidNumber for what is neither a number of losses nor None."""
-    if most is not None:
-        check_losses(most)
 
 
 def read_table(heads, value):

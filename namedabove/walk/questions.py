@@ -5,8 +5,6 @@ from namedabove.base.names import is_whole
 from namedabove.errors import InvalidNumber, InvalidOperation
 from namedabove.read.lots import Lot, together
 from namedabove.read.rules import check_rule
-from namedabove.walk.nets import LOSS, cheapest, way_from
-from namedabove.walk.paths import path_to
 
 ABOVE = "above"
 KINS = ("above", "beside")
@@ -19,14 +17,30 @@ def check_question(company, rule, one, other, kin):
     check_rule(rule)
     check_person(company, one)
     check_person(company, other)
+    check_kin(kin)
+
+
+def check_kin(kin):
+    """Raise InvalidOperation for what is none of the two words."""
     if kin not in KINS:
         raise InvalidOperation("the kin is none of the two words")
 
 
+def is_losses(value):
+    """Whether the value is a number of losses that can be asked for."""
+    return is_whole(value) and 0 <= value <= MAX_LOSSES
+
+
 def check_losses(most):
     """Raise InvalidNumber for what is no number of losses."""
-    if not is_whole(most) or not 0 <= most <= MAX_LOSSES:
+    if not is_losses(most):
         raise InvalidNumber(most)
+
+
+def check_most(most):
+    """Raise InvalidNumber for what is neither a number of losses nor None."""
+    if most is not None:
+        check_losses(most)
 
 
 class Question:
@@ -59,34 +73,3 @@ class Question:
         if bundle.talk_of(first) != bundle.talk_of(second) or not self.is_kin(bundle, first, second):
             return False
         return not together(self._rule, lot, first, second)
-
-
-class Search:
-    """The cheapest parting of a kin on a net, of a letter of one of some people and one of some others."""
-
-    def __init__(self, net, kin, people, others):
-        self._net = net
-        self._kin = kin
-        ends = net.ends(people, 0)
-        self.reached = net.costs_to()
-        self.zero = net.costs_from(ends)
-        self.one = net.costs_from(net.ends(others, 1))
-        if kin == ABOVE:
-            self._best = cheapest(self.reached, [self.one], ends)
-        else:
-            self._best = cheapest(self.reached, [self.zero, self.one], list(self.reached))
-
-    def least(self):
-        """The least number of losses of a parting; None without one."""
-        return None if self._best is None else self._best[0] // LOSS
-
-    def parting(self):
-        """The lot of a cheapest parting, and its two letters."""
-        node = self._best[1]
-        way = path_to(self.reached, node)
-        branches = [way_from(self.one, node)]
-        if self._kin != ABOVE:
-            branches = [way_from(self.zero, node), *branches]
-        lot, lasts = self._net.lot(way, branches)
-        first = len(way) - 1 if self._kin == ABOVE else lasts[0]
-        return lot, first, lasts[-1]

@@ -1,0 +1,1 @@
+"""Texts of what the package knows, and what texts say."""
