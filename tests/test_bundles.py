@@ -179,6 +179,63 @@ class Telling(unittest.TestCase):
                     self.assertEqual(more, bundle + letter)
             self.assertEqual(told(bundle), before)
 
+    def test_bundles_that_grow_letter_by_letter(self):
+        chance = Random(6)
+        for _ in range(25):
+            company = some_company(chance)
+            letters = some_letters(chance, company, 40)
+            one = two = Bundle(company)
+            grown = [one]
+            for letter in letters:
+                writer, upon, begins = letter
+                one = one + letter
+                if upon is None:
+                    two = two + letter
+                else:
+                    two = two.taken(upon, writer) if begins else two.answered(upon, writer)
+                grown.append(one)
+            self.assertEqual(told(one), told(Bundle.of(company, letters)))
+            self.assertEqual(told(two), told(one))
+            self.check_bundle(company, letters, one)
+            # What a letter was added to is as it was, also when two letters were added to it.
+            for many in range(0, len(letters) + 1, 7):
+                self.assertEqual(told(grown[many]), told(Bundle(company, *letters[:many])))
+                for letter in possible_letters(company, letters[:many])[:2]:
+                    if many < 40:
+                        self.check_bundle(company, (*letters[:many], letter), grown[many] + letter)
+            self.assertEqual(told(grown[-1]), told(one))
+
+    def test_letters_that_are_refused_behind_grown_bundles(self):
+        grown = Bundle(SOLO)
+        for letter in long_row(40):
+            grown = grown + letter
+        part, marks = grown.ways((38,))
+        self.assertEqual((len(part), marks), (39, tuple(range(39))))
+        full = part + ("a", 3, False)
+        for bundle in (grown, full, grown.ways((39,))[0]):
+            for letter in (("a", None, True), ("a", 0, False), None):
+                self.assertRaises(InvalidBundle, lambda: bundle + letter)
+            self.assertRaises(InvalidBundle, bundle.answered, 0, "a")
+            self.assertRaises(InvalidBundle, bundle.taken, 0, "a")
+        for letter in (("b", None, True), ("a", 39, False), ("a", 0, True), ("a", True, False), None, ("a", None, False), part):
+            self.assertRaises(InvalidBundle, lambda: part + letter)
+        self.assertEqual((len(full), len(part), full.way_of(39), full.talk_of(39)), (40, 39, (0, 1, 2, 3), 0))
+        self.assertRaises(InvalidBundle, Bundle, SOLO, part)
+
+    def test_what_is_added_is_looked_at_alone(self):
+        grown = Bundle(COMPANY, *ROW)
+        looked = []
+        turn = Company.turn
+        try:
+            Company.turn = lambda self, *told, **more: (looked.append(told), turn(self, *told, **more))[1]
+            more = grown.answered(1, "ann").taken(3, "ann") + ("ann", None, True)
+            self.assertLessEqual(len(looked), 4)
+            looked.clear()
+            self.assertEqual([more.way_of(7), more.talk_of(7), more.list_of(7), more.copy_of(7)], [(0, 1, 2, 3), 7, (3,), (3,)])
+            self.assertEqual(looked, [])
+        finally:
+            Company.turn = turn
+
     def test_roads_cut_first_and_cutters_last(self):
         row = long_row(9)
         for turn, expected in (

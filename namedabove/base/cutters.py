@@ -124,6 +124,10 @@ class Cutter:
         between = many - REACH
         return tuple([at if at < MAX_FRONT else at + between for at in self._table[REACH]])
 
+    def places_of_few(self, many):
+        """The same for what is known to be a number of up to five."""
+        return self._table[many]
+
     def __rshift__(self, other):
         """The cutter that does first what this one does, then what the other one does."""
         check_cutter(other)
@@ -168,4 +172,5 @@ def cut(cutter, row):
         return row
     if len(row) > REACH:
         row = row[:MAX_FRONT] + row[-MAX_BACK:]
-    return tuple([row[at] for at in cutter.places(len(row))])
+    places = cutter.places_of_few(len(row))
+    return row if len(places) == len(row) else tuple([row[at] for at in places])

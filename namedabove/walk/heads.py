@@ -58,8 +58,9 @@ class Heads:
         if state not in self._upon:
             head, own = divmod(state, COLOURS)
             short, person = divmod(head, MAX_PEOPLE)
+            takings = self._takings[person]
             answers = self._heads_behind(self._answers[person], short, own)
-            self._upon[state] = (answers, self._heads_behind(self._takings[person], short, own))
+            self._upon[state] = (answers, self._heads_behind(takings, short, own) if takings else [])
         return self._upon[state]
 
     def is_end(self, state, people, colour):

@@ -49,8 +49,7 @@ def is_parted_paper(company, rule, one, other, value, *, kin, most=None):
         return False
     if not are_closed(heads, so_far, [zero, one_table]):
         return False
-    ends = [state for state in so_far if heads.is_end(state, [heads.number_of(one)], 0)]
-    others = [state for state in so_far if heads.is_end(state, [heads.number_of(other)], 1)]
+    ends, others = [ends_in(heads, so_far, person, colour) for person, colour in ((one, 0), (other, 1))]
     if not is_below(heads, zero, ends) or not is_below(heads, one_table, others):
         return False
     if kin == ABOVE:
@@ -104,23 +103,28 @@ def are_closed(heads, so_far, tables):
     return True
 
 
+def ends_in(heads, states, person, colour):
+    """A dict of the states in which a letter of a person comes with this colour."""
+    numbers = [heads.number_of(person)]
+    return {state: True for state in states if heads.is_end(state, numbers, colour)}
+
+
 def is_below(heads, table, ends):
     """Whether what a table tells of each state is at most what it costs to go on to an end, by any answer."""
-    is_end = {state: True for state in ends}
     bounds = {}
     for state in table:
         answers, _ = heads.upon(state)
         for head in answers:
             if head not in bounds:
-                bounds[head] = bound_of(heads.states(head), table, is_end)
+                bounds[head] = bound_of(heads.states(head), table, ends)
             if bounds[head] is not None and (table[state] is None or table[state] > bounds[head]):
                 return False
     return True
 
 
-def bound_of(states, table, is_end):
+def bound_of(states, table, ends):
     """The least that a table tells of going on by one of these states to an end; None for no way."""
-    if any([state in is_end for state, _ in states]):
+    if any([state in ends for state, _ in states]):
         return 0
     return min([loss + table[state] for state, loss in states if table[state] is not None], default=None)
 

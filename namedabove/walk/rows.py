@@ -43,11 +43,13 @@ def is_rows_paper(company, rule, one, other, value, *, kin, most):
         return False
     ground = Runs(Heads(company, rule), most)
     runs, none_zero, none_one = [read_set(ground, part) for part in (told, first, second)]
-    if runs is None or none_zero is None or none_one is None or not are_closed(ground, runs):
+    if runs is None or none_zero is None or none_one is None:
         return False
-    ends = {run: True for run in runs if ground.is_end(run, [ground.number_of(one)], 0)}
-    others = {run: True for run in runs if ground.is_end(run, [ground.number_of(other)], 1)}
-    if not is_without(ground, runs, none_zero, ends) or not is_without(ground, runs, none_one, others):
+    behind = {run: ground.upon(run) for run in runs}
+    if not are_closed(ground, runs, behind):
+        return False
+    ends, others = [ends_in(ground, runs, person, colour) for person, colour in ((one, 0), (other, 1))]
+    if not is_without(ground, behind, none_zero, ends) or not is_without(ground, behind, none_one, others):
         return False
     if kin == ABOVE:
         return all([run in none_one for run in ends])
@@ -78,19 +80,25 @@ def read_set(ground, value):
     return {run: True for run in runs}
 
 
-def are_closed(ground, runs):
+def ends_in(ground, runs, person, colour):
+    """A dict of the runs with which a letter of a person comes with this colour."""
+    numbers = [ground.number_of(person)]
+    return {run: True for run in runs if ground.is_end(run, numbers, colour)}
+
+
+def are_closed(ground, runs, behind):
     """Whether a set has the runs of all beginnings, and with each run those of all its steps."""
     heads = {head: True for head in ground.first()}
     for run in runs:
-        answers, takings = ground.upon(run)
-        for head in answers + takings:
-            heads[head] = True
+        for part in behind[run]:
+            for head in part:
+                heads[head] = True
     return all([run in runs for head in heads for run, _ in ground.states(head)])
 
 
-def is_without(ground, runs, some, ends):
+def is_without(ground, behind, some, ends):
     """Whether these are some of the runs, from which answers lead to such runs only, and to no end."""
-    if not all([run in runs for run in some]):
+    if not all([run in behind for run in some]):
         return False
-    heads = {head: True for run in some for head in ground.upon(run)[0]}
+    heads = {head: True for run in some for head in behind[run][0]}
     return all([run in some and run not in ends for head in heads for run, _ in ground.states(head)])

@@ -33,7 +33,8 @@ class Runs:
         """The heads of the letters that answer a letter with this run, and of those that take it."""
         state, row = divmod(run, self._base)
         answers, takings = self._heads.upon(state)
-        return [head * self._base + row for head in answers], [head * self._base + row for head in takings]
+        base = self._base
+        return [head * base + row for head in answers], [head * base + row for head in takings] if takings else []
 
     def is_end(self, run, people, colour):
         """Whether a letter of one of these people (by their numbers) comes with this run and colour."""
@@ -60,9 +61,10 @@ class Runs:
         """The number of a run that is told as a pair; None for what is no run that is possible."""
         if not isinstance(value, tuple) or len(value) != 2:
             return None
-        state = self._heads.state_of(value[0])
-        if state is None or not is_mark(value[1]) or value[1] > self._most:
+        told, row = value
+        if not is_mark(row) or row > self._most:
             return None
-        if (value[1] > 0) != (self._heads.loss(state) > 0):
+        state = self._heads.state_of(told)
+        if state is None or (row > 0) != (self._heads.loss(state) > 0):
             return None
-        return state * self._base + value[1]
+        return state * self._base + row

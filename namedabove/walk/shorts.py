@@ -19,7 +19,7 @@ def short_form(row):
 def without_lost(short):
     """A short form of colours without that of lost letters between the first and the last ones."""
     row, between, last = short
-    return (row, tuple([colour for colour in between if colour != LOST]), last)
+    return (row, tuple([colour for colour in between if colour != LOST]), last) if LOST in between else short
 
 
 def all_kept(cutter, short):
@@ -35,12 +35,14 @@ def cut_short(cutter, short):
     if cutter.keeps_all:
         return short
     row, _, last = short
-    return (cut(cutter, row + last), (), ())
+    return (cut(cutter, row + last if last else row), (), ())
 
 
 def one_longer(short, number):
     """The short form of a row with this short form and one more integer behind it."""
     row, between, last = short
+    if len(row) < REACH and not last:
+        return ((*row, number), (), ())
     if not last:
         return short_form((*row, number))
     moved = last[0]
