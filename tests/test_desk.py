@@ -317,6 +317,14 @@ class Told(unittest.TestCase):
         self.check_kept(lambda: small.pledge("z", ("whole", "ann", "bob", "above", 1)), TooMany, "limit", many - 1)
         self.assertEqual((small.pledge("pure", ("pure",)), small.use(NARROW)), (1, 2))
 
+    def test_the_limit_that_is_not_told(self):
+        large = PLAIN.with_answer("ann", "bob", (ALL, True, ALL)).with_answer("bob", "ann", (ALL, True, ALL))
+        self.assertGreater(len(Walk(large, NARROW).states(limit=20000)), 2000)
+        desk = Desk(large, NARROW)
+        self.check_kept(lambda: desk.pledge("a", ("whole", "ann", "ann", "above", 0)), TooMany, "limit", 2000)
+        desk = Desk(large, NARROW, limit=20000)
+        self.assertEqual((desk.pledge("a", ("whole", "ann", "ann", "above", 0)), desk.twin().pledge("b", ("rows", "ann", "ann", "above", 0))), (1, 2))
+
     def test_what_is_equal_is_no_change(self):
         long = Company(PLAIN.people, {pair: (Cutter(), True, Cutter("all", "..++")) for pair in PLAIN.answers}, starts=("ann",))
         desk = Desk(long, Rule(Cutter("all", "all")))
@@ -387,6 +395,8 @@ class Told(unittest.TestCase):
         self.assertIs(desk == other, False)
         other.pledge("like", ("like", Rule(Cutter("all", "all"), sees_lost=True)))
         self.assertIs(desk == other, True)
+        one, two = Desk(PLAIN, WIDE), Desk(TAKES, WIDE)
+        self.assertEqual((one == two, one == Desk(PLAIN, NARROW), one == Desk(PLAIN, WIDE, limit=1)), (False, False, True))
         for value in (Desk(PLAIN, WIDE), PLAIN, *several()):
             self.assertEqual((desk == value, desk != value), (False, True))
         self.assertRaises(TypeError, lambda: list(desk))

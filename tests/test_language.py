@@ -196,6 +196,31 @@ class Calls(unittest.TestCase):
                     for part in node.args:
                         self.assertNotIsInstance(part, ast.GeneratorExp, (path, node.lineno))
 
+    def test_stars(self):
+        for path, tree in TREES.items():
+            for call in nodes_of(tree, ast.Call):
+                stars = [at for at, part in enumerate(call.args) if isinstance(part, ast.Starred)]
+                for part in call.args[stars[0]:] if stars else []:
+                    told = part.value if isinstance(part, ast.Starred) else part
+                    self.assertIsInstance(told, (ast.Name, ast.Attribute, ast.Constant), (path, call.lineno))
+            for star in nodes_of(tree, ast.Starred):
+                if isinstance(star.value, ast.Call) and isinstance(star.value.func, ast.Name):
+                    self.assertNotIn(star.value.func.id, ("range", "zip", "enumerate", "map"), (path, star.lineno))
+
+    def test_views_and_ranges_are_iterated_at_once(self):
+        places = ("list", "tuple", "dict", "sorted", "sum", "any", "all", "enumerate", "zip")
+        for path, tree in TREES.items():
+            fine = [node.iter for node in nodes_of(tree, ast.For, ast.comprehension)]
+            for call in nodes_of(tree, ast.Call):
+                if isinstance(call.func, ast.Name) and call.func.id in places:
+                    fine += call.args
+                if isinstance(call.func, ast.Attribute) and call.func.attr == "join":
+                    fine += call.args
+            for call in nodes_of(tree, ast.Call):
+                name = call.func.id if isinstance(call.func, ast.Name) else call.func.attr
+                if name in ("range", "zip", "enumerate", "items", "keys", "values"):
+                    self.assertIn(call, fine, (path, call.lineno))
+
     def test_reversed_and_sort_are_not_used(self):
         for path, tree in TREES.items():
             for node in nodes_of(tree, ast.Name, ast.Attribute):

@@ -7,13 +7,12 @@ from namedabove.live.trials import History, Trial
 from namedabove.read.bonds import least_chain
 from namedabove.read.lots import check_lot
 from namedabove.read.rules import check_rule
-from namedabove.talk.bundles import check_bundle, check_mark
+from namedabove.talk.bundles import check_bundle
 
 
 def arrival(bundle, mark):
     """The arrival of a letter of a bundle: its mark, its writer, and the copy of its list."""
     check_bundle(bundle)
-    check_mark(bundle, mark)
     return (mark, bundle[mark][0], bundle.copy_of(mark))
 
 

@@ -42,15 +42,16 @@ class Papers:
 
     def paper(self, pledge):
         """The paper that shows that a pledge holds, or a lot that shows that it does not."""
-        if pledge[0] == WHOLE:
-            return parted_paper(self._searches, *pledge[1:])
-        if pledge[0] == ROWS:
-            return rows_paper(self._searches, *pledge[1:])
-        if pledge[0] == PURE:
+        word, *rest = pledge
+        if word == WHOLE:
+            return parted_paper(self._searches, *rest)
+        if word == ROWS:
+            return rows_paper(self._searches, *rest)
+        if word == PURE:
             return find_mixed(self._company, self._rule)
-        if pledge[0] == PLACED:
+        if word == PLACED:
             return find_wrong(self._company, self._rule)
-        return find_unlike(self._company, self._rule, pledge[1])
+        return find_unlike(self._company, self._rule, rest[0])
 
     def refusal(self, pledge):
         """The lot that shows that a pledge does not hold, with its letters; None if it holds."""

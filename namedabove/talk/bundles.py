@@ -62,7 +62,10 @@ class Pile:
 
 def pile_of(company, row):
     """The pile of a tuple of what is known to be letters of the company."""
-    lists, cuts, above, begun = [], [], [], []
+    lists = []
+    cuts = []
+    above = []
+    begun = []
     for mark in range(len(row)):
         marks, some, way, talk = told_of(company, row, lists, above, begun, mark)
         lists.append(marks)

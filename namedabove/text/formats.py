@@ -102,7 +102,7 @@ def read_company(text):
     """The company that has this text."""
     lines = lines_of(text)
     people = names_in(lines[0], PEOPLE)
-    if people is None or not is_people(people):
+    if not is_people(people):
         raise ParseError(0)
     if len(lines) == 1:
         raise ParseError(1)
@@ -129,7 +129,7 @@ def read_lot(company, text):
     check_company(company)
     lines = lines_of(text)
     pairs = [letter_of_lot_in(line) for line in lines]
-    letters = read_letters(company, lines, [None if pair is None else pair[0] for pair in pairs])
+    letters = read_letters(company, lines, [letter for letter, _ in pairs])
     return Lot(Bundle.of_many(company, letters), tuple([mark for mark in range(len(letters)) if pairs[mark][1]]))
 
 
@@ -190,6 +190,6 @@ def read_letters(company, lines, letters):
             raise ParseError(1)
         return ()
     for at in range(len(lines)):
-        if letters[at] is None or not is_letter(company, letters, at):
+        if not is_letter(company, letters, at):
             raise ParseError(at)
     return tuple(letters)

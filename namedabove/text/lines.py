@@ -63,7 +63,7 @@ def names_in(line, word):
 def some_in(line, word, people):
     """The ascending tuple of people behind the first word of a line."""
     names = names_in(line, word)
-    return names if names is not None and is_some_of(names, people) else None
+    return names if is_some_of(names, people) else None
 
 
 def pair_and_turn_in(line, word, people):
@@ -71,9 +71,7 @@ def pair_and_turn_in(line, word, people):
     head, _, rest = line.partition(": ")
     pair = names_in(head, word)
     turn = turn_in(rest)
-    if pair is None or turn is None or not is_pair(pair, people):
-        return None
-    return pair, turn
+    return (pair, turn) if turn is not None and is_pair(pair, people) else None
 
 
 def copy_in(line, word, people):
@@ -87,10 +85,8 @@ def copy_in(line, word, people):
 
 
 def letter_in(line):
-    """The letter of a line, whoever writes it upon whatever."""
+    """The letter of a line, whoever writes it, and upon whatever."""
     words = line.split(" ")
-    if not is_name(words[0]):
-        return None
     if len(words) == 1:
         return (words[0], None, True)
     if len(words) != 3 or words[1] not in (UPON, NEW):
@@ -100,12 +96,11 @@ def letter_in(line):
 
 
 def letter_of_lot_in(line):
-    """The pair of the letter of a line, and of whether it came."""
+    """The pair of the letter of a line, perhaps None, and of whether it came."""
     words = line.split(" ")
     # Somebody can be called lost, too; so only a word behind the letter says that this is lost.
     is_lost = len(words) in (2, 4) and words[-1] == LOST
-    letter = letter_in(" ".join(words[:-1]) if is_lost else line)
-    return None if letter is None else (letter, not is_lost)
+    return letter_in(" ".join(words[:-1]) if is_lost else line), not is_lost
 
 
 def arrival_in(line):
@@ -116,15 +111,12 @@ def arrival_in(line):
         return None
     mark = number_in(words[0])
     copy = marks_in(rest)
-    if mark is None or copy is None or not is_marks_below(copy, mark):
+    if mark is None or not is_marks_below(copy, mark):
         return None
     return (mark, words[1], copy)
 
 
 def marks_in(text):
     """The tuple of the numbers of a text, each behind a blank."""
-    if text == "":
-        return ()
     first, *words = text.split(" ")
-    numbers = tuple([number_in(word) for word in words])
-    return None if first != "" or None in numbers else numbers
+    return tuple([number_in(word) for word in words]) if first == "" else None

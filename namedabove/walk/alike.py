@@ -50,15 +50,15 @@ def is_alike_paper(company, one, other, value):
     check_rules(company, one, other)
     if not isinstance(value, tuple) or value == ():
         return False
-    if value[0] == "lot":
-        return len(value) == 4 and are_unlike(company, one, other, *value[1:])
-    if value[0] != "alike" or len(value) != 3 or not are_forms(company, *value[1:]):
-        return False
-    if not are_closed(company, *value[1:]):
+    word, *rest = value
+    if word == "lot":
+        return len(rest) == 3 and are_unlike(company, one, other, *rest)
+    if word != "alike" or len(rest) != 2 or not are_forms(company, *rest) or not are_closed(company, *rest):
         return False
     readings = readings_of(company, one, other)
-    by_base = {base: {} for base in value[1]}
-    for view in value[2]:
+    bases, views = rest
+    by_base = {base: {} for base in bases}
+    for view in views:
         if view[0] not in by_base:
             by_base[view[0]] = {}
         by_base[view[0]][view] = (1,)

@@ -34,12 +34,13 @@ def is_mixed_paper(company, rule, value):
     check_rule(rule)
     if not isinstance(value, tuple) or value == ():
         return False
-    if value[0] == "lot":
-        return len(value) == 4 and are_mixed(company, rule, *value[1:])
-    if value[0] != "never" or len(value) != 2 or not is_trace_tuple(company, value[1]):
+    word, *rest = value
+    if word == "lot":
+        return len(rest) == 3 and are_mixed(company, rule, *rest)
+    if word != "never" or len(rest) != 1 or not is_trace_tuple(company, rest[0]):
         return False
     through = throughs(company, rule)
-    traces = {trace: True for trace in value[1]}
+    traces = {trace: True for trace in rest[0]}
     if any([is_mixing_trace(through, trace) for trace in traces]):
         return False
     bases = Bases(company)

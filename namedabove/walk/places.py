@@ -112,21 +112,22 @@ def is_place_paper(company, rule, value, word):
     check_rule(rule)
     if not isinstance(value, tuple) or value == ():
         return False
-    if value[0] == "lot":
-        return len(value) == 3 and is_in_place(company, rule, *value[1:], word)
-    if value[0] != "never" or len(value) != 2 or not is_state_tuple(company, value[1]):
+    kind, *rest = value
+    if kind == "lot":
+        return len(rest) == 2 and is_in_place(company, rule, word, *rest)
+    if kind != "never" or len(rest) != 1 or not is_state_tuple(company, rest[0]):
         return False
     through = throughs(company, rule)
-    if any([has_place(through, state, word) for state in value[1]]):
+    states = {state: True for state in rest[0]}
+    if any([has_place(through, state, word) for state in states]):
         return False
     gaps = Gaps(company)
-    states = {state: True for state in value[1]}
     if not all([state in states for state, _, _ in gaps.begins()]):
         return False
     return all([near in states for state in states for near, _, _ in gaps.steps(state)])
 
 
-def is_in_place(company, rule, lot, mark, word):
+def is_in_place(company, rule, word, lot, mark):
     """Whether the values are a lot of the company, and a letter that is in such a place there."""
     if not isinstance(lot, Lot) or lot.bundle.company != company or mark not in lot:
         return False

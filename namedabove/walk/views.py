@@ -1,6 +1,6 @@
 """Views: how much of the list of a letter stands in the list of a letter below it."""
 
-from namedabove.walk.bases import MANY, Bases, bound_places, is_base
+from namedabove.walk.bases import MANY, Bases, bound_places, is_base, row_of
 from namedabove.walk.kinds import Kinds
 from namedabove.walk.paths import all_paths
 from namedabove.walk.shorts import all_kept, is_short, short_behind, short_form
@@ -53,7 +53,7 @@ def is_view(company, value):
     base, person, short = value
     if not is_base(company, base) or person not in company.people:
         return False
-    return is_short(short, (*range(base[1] + 1), BELOW))
+    return is_short(short, (*row_of(base[1] + 1), BELOW))
 
 
 def as_bits(places):
