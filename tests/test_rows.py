@@ -229,6 +229,20 @@ class Judging(unittest.TestCase):
             self.assertIs(self.judge(question, ("sets", sets[0], *found[2:]), 1), False)
             self.assertIs(self.judge(question, ("sets", *sets), 1), False)
 
+    def test_runs_with_too_long_a_row(self):
+        looked = 0
+        for question in (*questions(54, 30, 60), (PLAIN, WIDE, "bob", "bob", "beside")):
+            company, rule, one, other, kin = question
+            for most in (0, 1, 2):
+                found = find_rows(company, rule, one, other, kin=kin, most=most)
+                if found[0] == "sets":
+                    lost = [state for state in Walk(company, rule).states() if Walk(company, rule).cost(state)]
+                    for run in [(state, row) for state in lost for row in (most + 1, most + 2, 1000, 1001)]:
+                        looked += 1
+                        sets = tuple(tuple(sorted({*part, run})) for part in found[1:])
+                        self.assertIs(self.judge(question, ("sets", *sets), most), False)
+        self.assertGreater(looked, 100)
+
     def test_sets_of_runs_that_are_not_among_all(self):
         question = (PLAIN, WIDE, "ann", "ann", "above")
         found = find_rows(*question[:4], kin="above", most=1)

@@ -104,6 +104,14 @@ class States(unittest.TestCase):
                     right = right and not (rule.sees_lost and short[2] and not short[1])
                     self.assertIs(walk.is_state((person, own, short)), right, (str(rule), person, own, short))
 
+    def test_colours_that_are_none_beside_states_that_are_known(self):
+        for rule in (WIDE, BLIND):
+            walk = Walk(PAIR, rule)
+            for person, own, short in walk.states(limit=20000):
+                for wrong in (-4, -3, -2, -1, 3, 4, 5, 6) + ((2,) if rule.sees_lost else ()):
+                    self.assertIs(walk.is_state((person, wrong, short)), False)
+                self.assertIs(walk.is_state((person, own, short)), True)
+
     def test_values_that_are_no_states(self):
         right = ("ann", 0, ((0, 1), (0, 1), (0, 0, 1)))
         wrong = [

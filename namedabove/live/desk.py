@@ -41,74 +41,74 @@ class Desk:
         self._limit = limit
         self._first = Agreement(company, rule, {})
         self._is_making = False
-        self.history = History((), ())
-        self.now = self._first
+        self._history = History((), ())
+        self._now = self._first
 
     @property
     def company(self):
         """The company."""
-        return self.now.group
+        return self._now.group
 
     @property
     def rule(self):
         """The rule."""
-        return self.now.reader
+        return self._now.reader
 
     @property
     def pledges(self):
         """The dict from names to pledges."""
-        return {name: self.now.named[name] for name in sorted(list(self.now.named))}
+        return {name: self._now.named[name] for name in sorted(list(self._now.named))}
 
     @property
     def version(self):
         """How many changes are in effect."""
-        return len(self.history.done)
+        return len(self._history.done)
 
     def pledge(self, name, pledge):
         """Take a pledge under a name."""
-        if not is_name(name) or name in self.now.named:
+        if not is_name(name) or name in self._now.named:
             raise InvalidOperation("the name is none, or is there")
-        if not is_pledge(self.now.group, pledge):
+        if not is_pledge(self._now.group, pledge):
             raise InvalidPledge("the value is no pledge for the company")
-        return self._change(Agreement(self.now.group, self.now.reader, {**self.now.named, name: pledge}), [name])
+        return self._change(Agreement(self._now.group, self._now.reader, {**self._now.named, name: pledge}), [name])
 
     def release(self, name):
         """Let a pledge go."""
         self._check_name(name)
-        named = {other: self.now.named[other] for other in self.now.named if other != name}
-        return self._change(Agreement(self.now.group, self.now.reader, named), [])
+        named = {other: self._now.named[other] for other in self._now.named if other != name}
+        return self._change(Agreement(self._now.group, self._now.reader, named), [])
 
     def answer(self, writer, answerer, turn):
         """Set the turn with which somebody answers letters of a writer, or bar this with None."""
-        return self._change_company(self.now.group.with_answer(writer, answerer, turn))
+        return self._change_company(self._now.group.with_answer(writer, answerer, turn))
 
     def taking(self, writer, answerer, turn):
         """Set the turn with which somebody takes letters of a writer, or bar this with None."""
-        return self._change_company(self.now.group.with_taking(writer, answerer, turn))
+        return self._change_company(self._now.group.with_taking(writer, answerer, turn))
 
     def copy(self, person, cutter):
         """Set the cutter of the road from a person to the reader."""
-        return self._change_company(self.now.group.with_copy(person, cutter))
+        return self._change_company(self._now.group.with_copy(person, cutter))
 
     def start(self, person, may_start):
         """Let a person write letters upon none, or not."""
-        check_person(self.now.group, person)
+        check_person(self._now.group, person)
         if not isinstance(may_start, bool):
             raise InvalidOperation("may_start is no boolean")
-        starts = [other for other in self.now.group.starts if other != person]
+        starts = [other for other in self._now.group.starts if other != person]
         if may_start:
             starts.append(person)
-        return self._change_company(self.now.group.with_starts(tuple(sorted(starts))))
+        return self._change_company(self._now.group.with_starts(tuple(sorted(starts))))
 
     def use(self, rule):
         """Set the rule."""
         check_rule(rule)
-        return self._change(Agreement(self.now.group, rule, self.now.named), self.now.named)
+        return self._change(Agreement(self._now.group, rule, self._now.named), self._now.named)
 
     def replace(self, company):
         """Set a company with the same people."""
         check_company(company)
-        if company.people != self.now.group.people:
+        if company.people != self._now.group.people:
             raise InvalidCompany("the company has other people")
         return self._change_company(company)
 
@@ -118,36 +118,36 @@ class Desk:
             if change is None or isinstance(change, (int, str, tuple, list, dict)):
                 raise InvalidOperation("a value is no function")
         self._check_making()
-        before = self.now
+        before = self._now
         self._is_making = True
         try:
             for change in changes:
                 change(self)
-            made = self.now
+            made = self._now
         finally:
-            self.now = before
+            self._now = before
             self._is_making = False
         return self._change(made, made.named)
 
     def paper(self, name):
         """A paper that shows that a pledge holds."""
         self._check_name(name)
-        return Papers(self.now.group, self.now.reader, self._limit).paper(self.now.named[name])
+        return Papers(self._now.group, self._now.reader, self._limit).paper(self._now.named[name])
 
     def inbox(self):
         """A new inbox with the rule."""
-        return Inbox(self.now.reader)
+        return Inbox(self._now.reader)
 
     def undo(self, *, many=1):
         """Take back the last changes, and tell the version."""
         self._check_making()
-        self.history = self.history.taken_back(many)
+        self._history = self._history.taken_back(many)
         return self._go_back()
 
     def redo(self, *, many=1):
         """Make changes again that were taken back, and tell the version."""
         self._check_making()
-        self.history = self.history.done_again(many)
+        self._history = self._history.done_again(many)
         return self._go_back()
 
     def trial(self):
@@ -162,29 +162,29 @@ class Desk:
     def twin(self):
         """An independent desk that is equal in all that is told."""
         other = Desk(self._first.group, self._first.reader, limit=self._limit)
-        other.history = self.history
-        other.now = self.now
+        other._history = self._history
+        other._now = self._now
         return other
 
     def __contains__(self, x):
-        return isinstance(x, str) and x in self.now.named
+        return isinstance(x, str) and x in self._now.named
 
     def __len__(self):
-        return len(self.now.named)
+        return len(self._now.named)
 
     def __eq__(self, other):
         if not isinstance(other, Desk):
             return False
-        here, there = self.now, other.now
+        here, there = self._now, other._now
         return here.group == there.group and here.reader == there.reader and here.named == there.named
 
     def __str__(self):
-        people = f"{len(self.now.group)} people, {len(self.now.named)} pledges"
-        return f"desk of {people}, version {len(self.history.done)}"
+        people = f"{len(self._now.group)} people, {len(self._now.named)} pledges"
+        return f"desk of {people}, version {len(self._history.done)}"
 
     def _check_name(self, name):
         """Raise UnknownName for what is the name of no pledge."""
-        if not isinstance(name, str) or name not in self.now.named:
+        if not isinstance(name, str) or name not in self._now.named:
             raise UnknownName(name)
 
     def _check_making(self):
@@ -194,20 +194,20 @@ class Desk:
 
     def _change_company(self, company):
         """Have this company, if all pledges hold then."""
-        return self._change(Agreement(company, self.now.reader, self.now.named), self.now.named)
+        return self._change(Agreement(company, self._now.reader, self._now.named), self._now.named)
 
     def _change(self, made, names):
         """Have what is made, if it is no change or these pledges hold then, and tell the version."""
-        if made.is_same(self.now):
+        if made.is_same(self._now):
             return self.version
         if not self._is_making:
             made.check(sorted(list(names)), self._limit)
-            self.history = self.history.with_deed(made)
-        self.now = made
+            self._history = self._history.with_deed(made)
+        self._now = made
         return self.version
 
     def _go_back(self):
         """Be again as the changes in effect tell."""
-        done = self.history.done
-        self.now = done[-1] if done else self._first
+        done = self._history.done
+        self._now = done[-1] if done else self._first
         return self.version

@@ -36,8 +36,8 @@ class Inbox:
     def __init__(self, rule, *told):
         check_rule(rule)
         self._first = rule
-        self.history = History((), ())
-        self.now = Letters(rule, {})
+        self._history = History((), ())
+        self._now = Letters(rule, {})
         self.receive(*told)
 
     @classmethod
@@ -51,7 +51,7 @@ class Inbox:
     @property
     def rule(self):
         """The rule by which letters are shown and together."""
-        return self.now.reader
+        return self._now.reader
 
     @rule.setter
     def rule(self, value):
@@ -60,18 +60,18 @@ class Inbox:
     @property
     def marks(self):
         """The ascending tuple of the marks of the letters."""
-        return self.now.order
+        return self._now.order
 
     @property
     def groups(self):
         """The tuple of the groups of letters that are together, ordered by their first marks."""
-        group = self.now.group
-        return tuple([group[mark] for mark in self.now.order if group[mark][0] == mark])
+        group = self._now.group
+        return tuple([group[mark] for mark in self._now.order if group[mark][0] == mark])
 
     @property
     def version(self):
         """How many deeds are in effect."""
-        return len(self.history.done)
+        return len(self._history.done)
 
     def receive(self, *told):
         """Take arrivals, and tell how many letters are new."""
@@ -79,64 +79,64 @@ class Inbox:
             raise InvalidLetter("a value is no arrival")
         new = {}
         for value in told:
-            there = self.now.by_mark.get(value[0], new.get(value[0], value))
+            there = self._now.by_mark.get(value[0], new.get(value[0], value))
             if there != value:
                 raise InvalidOperation("two unlike arrivals have one mark")
-            if value[0] not in self.now.by_mark:
+            if value[0] not in self._now.by_mark:
                 new[value[0]] = value
         if new:
-            self._do(self.now.with_new(list(new.values())), tuple(new.values()))
+            self._do(self._now.with_new(list(new.values())), tuple(new.values()))
         return len(new)
 
     def use(self, rule):
         """Go by this rule, and tell the version."""
         check_rule(rule)
-        if rule != self.now.reader:
-            self._do(Letters(rule, self.now.by_mark), ())
+        if rule != self._now.reader:
+            self._do(Letters(rule, self._now.by_mark), ())
         return self.version
 
     def __getitem__(self, at):
         self._check(at)
-        return self.now.by_mark[at]
+        return self._now.by_mark[at]
 
     def shown(self, mark):
         """The mark beneath which a letter is shown, or None."""
         self._check(mark)
-        return self.now.beneath[mark]
+        return self._now.beneath[mark]
 
     def below(self, mark):
         """The ascending tuple of the letters that are shown beneath a letter."""
         self._check(mark)
-        binders = self.now.binders.get(mark, ())
-        return tuple(sorted([binder for binder in binders if self.now.beneath[binder] == mark]))
+        binders = self._now.binders.get(mark, ())
+        return tuple(sorted([binder for binder in binders if self._now.beneath[binder] == mark]))
 
     def are_together(self, first, second):
         """Whether two letters are together."""
         self._check(first)
         self._check(second)
-        return self.now.group[first][0] == self.now.group[second][0]
+        return self._now.group[first][0] == self._now.group[second][0]
 
     def chain(self, first, second):
         """Of the shortest rows of neighbours from one letter to another one the least tuple; None without one."""
         self._check(first)
         self._check(second)
-        return least_chain(self.now.reader.sees_lost, self.now.tied, self.now.binders, first, second)
+        return least_chain(self._now.reader.sees_lost, self._now.tied, self._now.binders, first, second)
 
     def moves(self, mark):
         """How many deeds since a letter came have changed the mark beneath which it is shown."""
         self._check(mark)
-        return len([deed for deed in self.history.done if mark in deed[2]])
+        return len([deed for deed in self._history.done if mark in deed[2]])
 
     def undo(self, *, many=1):
         """Take back the last deeds, and tell the version."""
-        self.history = self.history.taken_back(many)
+        self._history = self._history.taken_back(many)
         if many:
             self._go_back()
         return self.version
 
     def redo(self, *, many=1):
         """Do deeds again that were taken back, and tell the version."""
-        self.history = self.history.done_again(many)
+        self._history = self._history.done_again(many)
         if many:
             self._go_back()
         return self.version
@@ -153,46 +153,46 @@ class Inbox:
     def twin(self):
         """An independent inbox that is equal in all that is told."""
         other = Inbox(self._first)
-        other.history = self.history
-        other.now = self.now
+        other._history = self._history
+        other._now = self._now
         return other
 
     def __len__(self):
-        return len(self.now.order)
+        return len(self._now.order)
 
     def __contains__(self, x):
-        return is_mark(x) and x in self.now.by_mark
+        return is_mark(x) and x in self._now.by_mark
 
     def __iter__(self):
-        return iter(self.now.order)
+        return iter(self._now.order)
 
     def __eq__(self, other):
         if not isinstance(other, Inbox):
             return False
-        return self.now.reader == other.now.reader and self.now.by_mark == other.now.by_mark
+        return self._now.reader == other._now.reader and self._now.by_mark == other._now.by_mark
 
     def __str__(self):
-        return f"inbox of {len(self.now.order)} letters, {len(self.groups)} groups"
+        return f"inbox of {len(self._now.order)} letters, {len(self.groups)} groups"
 
     def _check(self, mark):
         """Raise UnknownName for what is no mark of a letter that is here."""
-        if not is_mark(mark) or mark not in self.now.by_mark:
+        if not is_mark(mark) or mark not in self._now.by_mark:
             raise UnknownName(mark)
 
     def _do(self, letters, new):
         """Do a deed: keep the rule behind it, what is new, and the letters that it moved."""
-        self.history = self.history.with_deed((letters.reader, new, letters.moved_since(self.now)))
-        self.now = letters
+        self._history = self._history.with_deed((letters.reader, new, letters.moved_since(self._now)))
+        self._now = letters
 
     def _go_back(self):
         """Be again as the deeds in effect tell."""
         rule = self._first
         by_mark = {}
-        for reader, new, _ in self.history.done:
+        for reader, new, _ in self._history.done:
             rule = reader
             for value in new:
                 by_mark[value[0]] = value
-        self.now = Letters(rule, by_mark)
+        self._now = Letters(rule, by_mark)
 
 
 def check_inbox(value):

@@ -52,10 +52,10 @@ class Trial:
         self._kept = None
 
     def __enter__(self):
-        self._kept = Kept(self._box.history, self._box.now, self._kept)
+        self._kept = Kept(self._box._history, self._box._now, self._kept)
         return self._box
 
     def __exit__(self, kind, value, trace):
-        self._box.history = self._kept.history
-        self._box.now = self._kept.now
+        self._box._history = self._kept.history
+        self._box._now = self._kept.now
         self._kept = self._kept.around
