@@ -25,6 +25,25 @@ def readings_of(company, one, other):
 def find_unlike(company, one, other):
     """A lot with few letters of which just two came, and are together by one rule alone, or what shows that none is."""
     check_rules(company, one, other)
+    bases, below, best = look_at(company, one, other)
+    if best is not None:
+        return lot_of(company, bases, below[best[1]], best[1], best[2])
+    every = [view for base in bases for view in below[base]]
+    return ("alike", tuple(sorted(list(bases))), tuple(sorted(every)))
+
+
+def are_alike(company, one, other):
+    """Whether in each lot of the company the same letters are together by both rules."""
+    check_rules(company, one, other)
+    _, _, best = look_at(company, one, other)
+    return best is None
+
+
+def look_at(company, one, other):
+    """The shortest ways to all bases, to the views of each, and what shows with fewest letters that rules are unlike.
+
+    That is a triple (letters, base, views), or None if they are alike.
+    """
     views = Views(company)
     bases = views.bases()
     below = {base: views.views(base) for base in bases}
@@ -34,15 +53,7 @@ def find_unlike(company, one, other):
         found = first_unlike(readings, base, below[base])
         if found is not None and (best is None or bases[base][0] + found[0] < best[0]):
             best = (bases[base][0] + found[0], base, found[1])
-    if best is not None:
-        return lot_of(company, bases, below[best[1]], best[1], best[2])
-    every = [view for base in bases for view in below[base]]
-    return ("alike", tuple(sorted(list(bases))), tuple(sorted(every)))
-
-
-def are_alike(company, one, other):
-    """Whether in each lot of the company the same letters are together by both rules."""
-    return find_unlike(company, one, other)[0] == "alike"
+    return bases, below, best
 
 
 def is_alike_paper(company, one, other, value):

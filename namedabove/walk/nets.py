@@ -46,6 +46,7 @@ class Net:
         self._all = {}
         self._heads = {}
         self._under = {}
+        self._ends = {}
         self._reached = None
         self._onward = {}
 
@@ -88,9 +89,12 @@ class Net:
         return sorted([(self._ground.told(node), node) for node in self._losses])
 
     def ends(self, people, colour):
-        """The nodes in which a letter of one of these people comes with this colour."""
-        numbers = [self._ground.number_of(person) for person in people]
-        return [node for node in self._losses if self._ground.is_end(node, numbers, colour)]
+        """The list of the nodes in which a letter of one of these people comes with this colour."""
+        if (people, colour) not in self._ends:
+            numbers = [self._ground.number_of(person) for person in people]
+            ends = [node for node in self._losses if self._ground.is_end(node, numbers, colour)]
+            self._ends[people, colour] = ends
+        return self._ends[people, colour]
 
     def costs_to(self):
         """A dict from nodes to pairs (cost, node before) of the cheapest ways to them, themselves counted."""
@@ -178,14 +182,3 @@ def way_from(onward, node):
         node = onward[node][1]
         way.append(node)
     return way
-
-
-def cheapest(reached, branches, nodes):
-    """The least pair (cost, node) for a way to a node and branches from there; None without one."""
-    best = None
-    for node in nodes:
-        if all([node in branch for branch in branches]):
-            cost = reached[node][0] + sum([branch[node][0] for branch in branches])
-            if best is None or (cost, node) < best:
-                best = (cost, node)
-    return best

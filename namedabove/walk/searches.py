@@ -2,7 +2,7 @@
 
 from namedabove.errors import TooMany
 from namedabove.walk.heads import Heads
-from namedabove.walk.nets import LOSS, Net, cheapest, way_from
+from namedabove.walk.nets import LOSS, Net, way_from
 from namedabove.walk.paths import path_to
 from namedabove.walk.questions import ABOVE
 from namedabove.walk.runs import Runs
@@ -17,10 +17,12 @@ class Search:
         self.reached = net.costs_to()
         self.zero = net.costs_from(people, 0)
         self.one = net.costs_from(others, 1)
+        reached, zero, one = self.reached, self.zero, self.one
         if kin == ABOVE:
-            self._best = cheapest(self.reached, [self.one], net.ends(people, 0))
+            costs = [(reached[node][0] + one[node][0], node) for node in net.ends(people, 0) if node in one]
         else:
-            self._best = cheapest(self.reached, [self.zero, self.one], list(self.reached))
+            costs = [(reached[node][0] + zero[node][0] + one[node][0], node) for node in zero if node in one]
+        self._best = min(costs, default=None)
 
     def least(self):
         """The least number of losses of a parting; None without one."""
