@@ -181,6 +181,28 @@ class Errors(unittest.TestCase):
                         self.assertEqual(call(), fewest)
         self.assertGreater(looked, 20)
 
+    def test_limits_where_a_set_that_does_not_help_has_most_states(self):
+        # Whoever is helped alone makes many states by takings; but only the other one helps.
+        company = Company(
+            ("ann", "bob"), {("ann", "bob"): (LAST, True, NONE)}, takings={("ann", "ann"): (ALL, True, Cutter("..-+-"))},
+        )
+        rule = Rule(ALL)
+        sizes = [many_states(company, rule, people) for people in ((), ("ann",), ("bob",))]
+        self.assertEqual(max(sizes), sizes[1])
+        told = lambda limit: helpers(company, rule, "ann", "bob", kin="above", limit=limit)
+        self.assertEqual(told(sizes[1]), (("bob",),))
+        for limit in (sizes[1] - 1, sizes[2], sizes[0] - 1):
+            self.check_kept(lambda: told(limit), TooMany, "limit", limit)
+
+    def test_limits_that_are_not_told(self):
+        company = Company(("ann", "bob"), {("ann", "bob"): (ALL, True, ALL), ("bob", "ann"): (ALL, True, ALL)})
+        self.assertGreater(many_states(company, NARROW, ()), 2000)
+        for call in (
+            lambda: helpers(company, NARROW, "ann", "ann", kin="above"), lambda: help_table(company, NARROW, kin="above"),
+            lambda: helps(company, NARROW, "ann", "ann", (), kin="above"),
+        ):
+            self.check_kept(call, TooMany, "limit", 2000)
+
     def test_limits_of_one_set(self):
         for company, rule, one, other, kin in small_questions(135, 30, 2):
             for people in all_sets(company):

@@ -172,6 +172,19 @@ class Judging(unittest.TestCase):
                     paper = ("never", (*traces[:at], tuple(told), *traces[at + 1:]))
                     self.assertIs(is_mixed_paper(company, rule, paper), False, told)
 
+    def test_members_that_cannot_be_though_nobody_answers_them(self):
+        company = Company(("ann", "bob"), {})
+        first = (("ann", 0, 0, True), ("bob", 0, 0, True))
+        for trace in all_traces(company):
+            paper = ("never", tuple(sorted({*first, trace})))
+            self.assertIs(is_mixed_paper(company, Rule(ALL), paper), trace[3], trace)
+            self.assertIs(is_mixed_paper(company, Rule(NONE), paper), True, trace)
+        for trace in (
+            ("bob", 3, 3, False), ("bob", 7, 0, True), ("bob", 7, 7, True), ("bob", 3, 4, True), ("bob", 3, -1, True),
+            ("cyd", 3, 3, True), ("bob", 6, 6, False), ("bob", 6, 7, True), ("bob", 1, True, True), ("bob", True, 0, True),
+        ):
+            self.assertIs(is_mixed_paper(company, Rule(NONE), ("never", tuple(sorted([*first, trace])))), False, trace)
+
     def test_order_and_kind_of_the_tuple(self):
         traces = find_mixed(PLAIN, WIDE)[1]
         for value in (traces[::-1], (*traces, traces[-1]), list(traces), (traces,), {trace: 1 for trace in traces}, None):

@@ -307,6 +307,7 @@ class Errors(unittest.TestCase):
                 self.assertRaises(InvalidCompany, are_shown_alike, value, 3, 3)
             if not isinstance(value, Rule):
                 self.assertRaises(InvalidRule, are_shown_alike, PLAIN, value, 3)
+                self.assertRaises(InvalidRule, are_shown_alike, PLAIN, value, WIDE)
                 self.assertRaises(InvalidRule, are_shown_alike, PLAIN, WIDE, value)
                 self.assertRaises(InvalidRule, places_in, value, 3)
             if not isinstance(value, Lot):

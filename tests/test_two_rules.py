@@ -279,6 +279,23 @@ class Judging(unittest.TestCase):
         ):
             self.assertIs(self.is_paper((word, bases, (*views, wrong))), False, wrong)
 
+    def test_members_that_cannot_be_though_nobody_answers_them(self):
+        company = Company(("ann", "bob"), {})
+        bases = (("ann", 0), ("bob", 0))
+        for base, expected in (
+            (("bob", 6), True), (("bob", 7), False), (("bob", -1), False), (("bob", True), False), (("bob", None), False),
+            (("cyd", 0), False), (("bob", 1, 1), False), (("bob",), False),
+        ):
+            paper = ("alike", tuple(sorted([*bases, base])) if len(base) != 2 or base[1].__class__ is int else (*bases, base), ())
+            self.assertIs(is_alike_paper(company, NARROW, NARROW, paper), expected, base)
+            short = ((), (), ())
+            self.assertIs(is_alike_paper(company, NARROW, NARROW, ("alike", bases, ((base, "ann", short),))), expected, base)
+        for many in range(7):
+            for place in (-1, *range(9), True, None):
+                right = place.__class__ is int and (0 <= place <= many or place == 7)
+                view = (("bob", many), "ann", ((place,), (), ()))
+                self.assertIs(is_alike_paper(company, NARROW, NARROW, ("alike", bases, (view,))), right, view)
+
     def test_views_of_a_base_that_is_not_there(self):
         view = (("bob", 6), "bob", ((), (), ()))
         company = Company(("ann", "bob"), {})
@@ -342,6 +359,7 @@ class Errors(unittest.TestCase):
                     self.assertRaises(InvalidCompany, function, value, 3, 3)
                 if not isinstance(value, Rule):
                     self.assertRaises(InvalidRule, function, PLAIN, value, 3)
+                    self.assertRaises(InvalidRule, function, PLAIN, value, WIDE)
                     self.assertRaises(InvalidRule, function, PLAIN, WIDE, value)
 
     def test_functions_stand_in_the_module_itself(self):

@@ -2,7 +2,7 @@
 
 from namedabove.base.companies import check_company
 from namedabove.base.names import is_ascending
-from namedabove.read.lots import Lot, check_reading, shown
+from namedabove.read.lots import Lot, shown
 from namedabove.read.rules import check_rule
 from namedabove.talk.bundles import Bundle
 from namedabove.walk.bases import Bases, bound_places, throughs
@@ -45,7 +45,6 @@ def are_shown_alike(company, one, other):
 
 def places_in(rule, lot):
     """A dict from the marks that came to what the place is in which each letter is shown."""
-    check_reading(rule, lot)
     beneath = shown(rule, lot)
     places = {}
     for mark in beneath:
