@@ -157,6 +157,13 @@ class Names(unittest.TestCase):
             for name in self.bound(tree):
                 self.assertTrue(name not in taken or name in classes, (path, name))
 
+    def test_imports_are_used(self):
+        for path, tree in TREES.items():
+            used = {node.id for node in nodes_of(tree, ast.Name)}
+            for node in nodes_of(tree, ast.ImportFrom):
+                for part in node.names:
+                    self.assertIn(part.name, used, path)
+
     def test_builtins_that_are_called(self):
         for path, tree in TREES.items():
             for node in nodes_of(tree, ast.Name):

@@ -11,8 +11,8 @@ from namedabove.read.rules import Rule
 from namedabove.talk.bundles import Bundle
 from namedabove.walk.alike import are_alike, binds_more, find_unlike, is_alike_paper
 from tests.plain_lots import plain_group, plain_neighbours, some_lot
-from tests.plain_talks import plain_bound, some_company, some_cutter, some_rule
-from tests.plain_ways import bundles_of, chains, meet_alike, plain_closed_pair, told_upon, views_upon
+from tests.plain_talks import plain_bound, some_company, some_rule
+from tests.plain_ways import bundles_of, chains, meet_alike, plain_closed_pair
 from tests.test_parted import single_trees
 from tests.values import several
 

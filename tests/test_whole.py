@@ -20,7 +20,7 @@ from namedabove.walk.places import are_shown_alike, find_missed, find_wrong, is_
 from namedabove.walk.rows import find_rows, is_rows_paper, least_row
 from namedabove.walk.states import Walk
 from tests.plain_lots import plain_group, some_lot
-from tests.plain_talks import plain_talk, plain_way, some_company, some_rule
+from tests.plain_talks import plain_talk, plain_way, some_rule
 from tests.test_parted import KINS, questions
 
 ALL, LAST, TWO, FIRST, NONE = Cutter("all"), Cutter("..+"), Cutter("..++"), Cutter("+.."), Cutter("..")

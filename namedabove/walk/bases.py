@@ -1,6 +1,6 @@
 """What is known of a list by its length: which places of it are handed on, and which ones are bound."""
 
-from namedabove.base.cutters import MAX_BACK, MAX_FRONT, REACH, cut
+from namedabove.base.cutters import MAX_FRONT, REACH, cut
 from namedabove.base.names import is_mark_below
 from namedabove.talk.bundles import list_behind
 from namedabove.walk.kinds import Kinds

@@ -1,6 +1,6 @@
 """Gaps: which letters of its own talk above a letter are none of some marks of its way."""
 
-from namedabove.base.cutters import MAX_FRONT, REACH
+from namedabove.base.cutters import MAX_FRONT
 from namedabove.base.names import is_mark_below
 from namedabove.walk.kinds import Kinds
 from namedabove.walk.shorts import NO_MARKS, is_short, one_longer
