@@ -135,6 +135,13 @@ class Company:
 
     def copy(self, person):
         """The cutter of the road from this person to the reader."""
+        return self.road_to_reader(person)
+
+    def road_to_reader(self, person):
+        """The same, under a name that no class has for a method that changes something.
+
+        A method that an operator calls is known by its name alone, and the one called copy of a desk changes it.
+        """
         check_person(self, person)
         return self._copies[person]
 

@@ -46,7 +46,7 @@ def told_of(company, row, lists, above, begun, mark):
         return (), (), (), mark
     turn = company.turn(row[upon][0], writer, takes=begins)
     marks = list_behind(turn, lists[upon], upon)
-    return marks, cut(company.copy(writer), marks), (*above[upon], upon), mark if begins else begun[upon]
+    return marks, cut(company.road_to_reader(writer), marks), (*above[upon], upon), mark if begins else begun[upon]
 
 
 class Pile:
